@@ -1,0 +1,1 @@
+"""Lightsout: any number of guests, and the lights of a house going out behind them."""
