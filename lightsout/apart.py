@@ -115,7 +115,7 @@ def _house_of(known, kind, other):
     """A house with all doors and cells of both, in which what is known is so."""
     doors = _names_of([kind, other], DOOR_WORDS)
     cells = _names_of([kind, other], CELL_WORDS)
-    parts = [sign for sign in LETTERS if sign not in doors + cells][:max(known[2], 1)]
+    parts = [sign for sign in LETTERS if sign not in doors + cells][:known[2]]
     # The number -1 of the yard is that of the last name here.
     spots = [*parts, "out"]
     ends = {name: (spots[one], spots[two]) for name, one, two in known[0]}

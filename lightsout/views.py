@@ -2,7 +2,7 @@
 
 from itertools import combinations
 
-from lightsout.basics import is_name, is_sequence, replaced, search, way_to
+from lightsout.basics import is_name, is_sequence, replaced, way_to
 from lightsout.errors import InvalidLot, InvalidOrder, InvalidStory, NoName
 from lightsout.house import House
 
@@ -169,66 +169,44 @@ def _all_parts(house):
     return list(range(len(house.parts)))
 
 
-def _one_more(house, lot, flow):
-    """The doors of a way by which one more can go where `flow` tells how often each is gone through, or None."""
-    def moves(spot):
-        """The doors that can be gone through from a spot, none from the lot."""
-        if spot in lot:
-            return []
-        free = [door for door in house.doors_at(spot) if flow[door] != _direction(house, door, spot)]
-        return [(door, house.far_end(door, spot)) for door in free]
-
-    met = search(-1, moves, lambda spot: spot in lot)
-    if met[-1][0] not in lot:
-        return None
-    steps = []
-    at = len(met) - 1
-    while met[at][1] >= 0:
-        steps.append((met[at][2], met[met[at][1]][0]))
-        at = met[at][1]
-    return steps
-
-
 def _direction(house, door, spot):
     """1 from the door's first end to its other one, -1 back."""
     return 1 if house.ends[door][0] == spot else -1
 
 
+def _flow_way(house, lot, flow, is_along):
+    """The pairs (door, direction) of a way along what flows, or through what does not flow so; None if none is."""
+    def moves(spot):
+        """What can be gone through from a spot, and what is behind it."""
+        sides = [(door, _direction(house, door, spot)) for door in house.doors_at(spot)]
+        return [(side, house.far_end(side[0], spot)) for side in sides if (flow[side[0]] == side[1]) == is_along]
+
+    return way_to(-1, moves, lambda spot: spot in lot)
+
+
 def _greatest_flow(house, lot):
     """For each door 1 or -1 if one of the most ways goes through it (-1: back), else 0."""
     flow = [0] * len(house.doors)
-    steps = _one_more(house, lot, flow)
-    while steps is not None:
-        for door, spot in steps:
-            flow[door] += _direction(house, door, spot)
-        steps = _one_more(house, lot, flow)
+    way = _flow_way(house, lot, flow, False)
+    while way is not None:
+        for door, direction in way:
+            # To go through against what flows takes back what went there.
+            flow[door] += direction
+        way = _flow_way(house, lot, flow, False)
     return flow
-
-
-def _way_along(house, lot, flow):
-    """The doors of a way along a flow, rings left out; what is gone through is taken from the flow."""
-    doors = []
-    spots = [-1]
-    while spots[-1] not in lot:
-        spot = spots[-1]
-        ways = [door for door in house.doors_at(spot) if flow[door] == _direction(house, door, spot)]
-        flow[ways[0]] = 0
-        far = house.far_end(ways[0], spot)
-        if far in spots:
-            back = spots.index(far)
-            doors = doors[:back]
-            spots = spots[:back + 1]
-        else:
-            doors.append(ways[0])
-            spots.append(far)
-    return tuple([house.doors[door][0] for door in doors])
 
 
 def _apart(house, lot):
     """Some of the most ways to a lot without a common door."""
     flow = _greatest_flow(house, lot)
-    many = sum([_direction(house, door, -1) * flow[door] for door in house.doors_at(-1)])
-    return tuple([_way_along(house, lot, flow) for _ in range(many)])
+    ways = []
+    way = _flow_way(house, lot, flow, True)
+    while way is not None:
+        for door, _ in way:
+            flow[door] = 0
+        ways.append(tuple([house.doors[door][0] for door, _ in way]))
+        way = _flow_way(house, lot, flow, True)
+    return tuple(ways)
 
 
 def ways_apart(house, parts):
@@ -324,7 +302,7 @@ def _checked_order(house, order):
     if not is_sequence(order):
         raise InvalidOrder(0)
     for at, name in enumerate(order):
-        if not isinstance(name, str) or name not in names or name in order[:at]:
+        if name not in names or name in order[:at]:
             raise InvalidOrder(at)
     if len(order) < len(names):
         raise InvalidOrder(len(order))
@@ -333,7 +311,7 @@ def _checked_order(house, order):
 
 def dark_orders(house):
     """How many orders are good."""
-    parts = sorted(_core_order(house)[1:])
+    parts = _core_order(house)[1:]
     ways = {(): 1}
     for size in range(1, len(parts) + 1):
         for lot in combinations(parts, size):

@@ -115,6 +115,7 @@ class Apart(unittest.TestCase):
                 many += 1
             else:
                 self.check_lot(kind, other, lot)
+            self.check_lot(kind, kind, alike_lot(kind, kind))
             self.assertEqual(found, house_apart(kind=kind, other=other))
         self.assertTrue(20 < many < 100)
 
@@ -174,6 +175,33 @@ class Apart(unittest.TestCase):
         self.assertEqual(((0, 0, None, -1, ((), (), 0)), (1, 1, None, 0, known), (2, 2, None, 0, known),
                           (3, 3, None, 0, more), *[(4, 4, ("c", value), 0, more) for value in range(3)]),
                          alike_lot(walk_in, walk_in))
+
+    def test_a_use_is_done_anywhere(self):
+        kind = Kind("a", [("go", "d"), ("see", "c"), ("go", "d"), ("use", "c"), ("go", "d")])
+        lot = alike_lot(kind, kind)
+        known = ((("d", -1, 0),), (("c", 0),), 1)
+        self.assertEqual([(4, 4, ("c", value), -1, known) for value in range(3)], [row for row in lot if row[0] == 4])
+        self.assertEqual([(5, 5, ("c", value), 0, known) for value in range(3)], [row for row in lot if row[0] == 5])
+        for rows in ([*kind.rows[:3], ("tell", "c"), ("go", "d")], kind.rows[:3]):
+            other = Kind("b", rows)
+            self.check(kind, other, house_apart(kind, other))
+            self.check(other, kind, house_apart(other, kind))
+            self.assertTrue(is_apart(kind, other, SMALL, ("done", 1, "done")))
+        self.assertEqual(house_apart(kind, Kind("b", [*kind.rows[:3], ("go", "d")])) is None, False)
+
+    def test_no_more_than_three_parts(self):
+        kind = Kind("a", [("go", "d"), ("go", "e"), ("go", "f"), ("go", "g"), ("see", "c")])
+        lot = alike_lot(kind, kind)
+        self.assertEqual(3, max(state[4][2] for state in lot))
+        self.assertEqual({-1, 0, 1, 2}, {state[3] for state in lot if state[0] == 4})
+        other = Kind("b", [*kind.rows[:4], ("tell", "c")])
+        self.check(kind, other, house_apart(kind, other))
+
+    def test_names_of_cells_that_are_words(self):
+        kind = Kind("a", [("go", "go"), ("see", "use"), ("tell", "use"), ("set", "use", 1)])
+        known = ((("go", -1, 0),), (("use", 0),), 1)
+        self.assertEqual([(4, 4, ("use", value), 0, known) for value in range(3)],
+                         [row for row in alike_lot(kind, kind) if row[0] == 4])
 
     def test_is_apart(self):
         self.assertIs(False, is_apart(EXAMPLE, OTHER, SMALL, ("done", 0)))

@@ -153,6 +153,9 @@ class Steps(unittest.TestCase):
         self.assertEqual((dark, (0, 1, 1, None), ("dark", "q")), done(("go", "e"), (0, 0, 0, None), dark))
         self.assertEqual((dark, (0, 1, 0, None), None), done(("go", "e"), (0, 0, 1, None), dark))
         self.assertIsNone(done(("go", "d"), (0, 0, -1, None), row(SHUT, (False, True))))
+        # The yard is never dark, whatever the lights are.
+        for lights in ((False, False), (True, False)):
+            self.assertIsNone(done(("go", "d"), (0, 0, 0, None), row(lights=lights))[2])
 
     def test_shut_and_open(self):
         for place in (-1, 0):
@@ -257,6 +260,18 @@ class Steps(unittest.TestCase):
             for where in (-1, 0):
                 steps = [step(house, [kind], told, (0, at, where, None)) for told in house_rows]
                 self.assertEqual(not any(steps), is_still(house, [kind], (0, at, where, None)))
+
+    def test_names_that_are_words(self):
+        house = House(["p"], [("go", "out", "p", True), ("open", "out", "p", True)], [("rest", "p", False), ("see", "p", True)])
+        rows = [("go", "go"), ("shut", "open"), ("see", "rest"), ("go", "go"), ("use", "rest"), ("tell", "see")]
+        kinds = [Kind("kind", rows)]
+        self.assertEqual(kinds[0], Kind.read(kinds[0].text()))
+        house_row, place = first_row(house), first_place(0)
+        for _ in range(5):
+            house_row, place, harm = step(house, kinds, house_row, place)
+            self.assertIsNone(harm)
+        self.assertEqual(((True, False), (0, 5, -1, (0, 0, False))), (house_row[0], place))
+        self.assertTrue(is_still(house, kinds, place))
 
     def test_nothing_that_is_passed_changes(self):
         kinds = [Kind("k", [("set", "c", 1)])]

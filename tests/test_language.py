@@ -259,6 +259,11 @@ class Interface(unittest.TestCase):
                 else:
                     self.assertIsInstance(own[word], ast.ClassDef)
 
+    def test_defaults(self):
+        found = {(name, node.name): [ast.literal_eval(part) for part in node.args.defaults]
+                 for name, node in nodes(ast.FunctionDef) if node.args.defaults}
+        self.assertEqual({("faces", "face"): [300]}, found)
+
     def test_every_landed_file_is_listed(self):
         self.assertLessEqual(set(TREES) - set(INTERFACE), {"__init__", "basics"})
 

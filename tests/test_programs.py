@@ -133,6 +133,11 @@ class Forms(unittest.TestCase):
         both = Kind("k", [("tell", "c"), ("see", "c"), ("again", 0)])
         self.assertEqual(((0, 0, None), (1, 1, None), (1, 1, ("c", 0)), (1, 1, ("c", 1)), (1, 1, ("c", 2)),
                           (2, 2, ("c", 0)), (2, 2, ("c", 1)), (2, 2, ("c", 2))), one_pairs(both, both))
+        # The pockets of e come ahead of those of c, and stand behind them.
+        round_two = Kind("k", [("see", "e"), ("tell", "x"), ("see", "c"), ("again", 1)])
+        pockets = [(name, value) for name in "ce" for value in range(3)]
+        self.assertEqual(((0, 0, None), *[(1, 1, ("e", value)) for value in range(3)], *[(2, 2, pocket) for pocket in pockets],
+                          *[(3, 3, ("c", value)) for value in range(3)]), one_pairs(round_two, round_two))
 
 
 class ByHand(unittest.TestCase):
@@ -192,6 +197,13 @@ class ByHand(unittest.TestCase):
         self.assertIsNone(can_do(EXAMPLE, ("set", "c", 2)))
         self.assertIsNone(can_do(EXAMPLE, ("set", "c", 0)))
         self.assertEqual(("done",), can_do(EXAMPLE, ("see", "c")))
+
+    def test_names_that_are_words(self):
+        kind = Kind("rest", [("go", "see"), ("see", "rest"), ("use", "rest"), ("tell", "rest"), ("shut", "rest")])
+        self.assertEqual(((("go", "see"), (1,)), (("see", "rest"), (2, 2, 2)), (("use", "rest"), (3,)),
+                          (("tell", "rest"), (4,)), (("shut", "rest"), (5,)), (("rest",), ())), least_form(kind))
+        self.assertEqual(("done",), answers_of(("tell", "rest")))
+        self.assertEqual(("done", 0, "done", "done"), can_do(kind, ("shut", "rest")))
 
 
 def answers_row(form, node):

@@ -237,6 +237,7 @@ class Alone(unittest.TestCase):
         places, end = self.end([("go", "d"), ("see", "c"), ("set", "c", 2), ("again", 1)])
         self.assertEqual((("ring", 5), 8), (end, len(places)))
         told, end = alone(SMALL, [Kind("k", [("shut", "d"), ("open", "d"), ("again", 0)])], 0, first_row(SMALL))
+        self.assertEqual({tuple}, {type(row) for row in (told, end, *told)})
         self.assertEqual((("ring", 0), [True, False, True]), (end, [row[0][0] for row, _ in told]))
 
     def test_harms(self):

@@ -30,7 +30,7 @@ def some_houses(seed, how_many, parts=4, doors=6, cells=2):
     for _ in range(how_many):
         names = chance.sample(["pa", "pb", "pc", "pd", "pe", "pf"], chance.randrange(1, parts + 1))
         rows = [(name, *chance.sample([*names, "out"], 2), chance.random() < 0.5)
-                for name in chance.sample("uvwxyz", chance.randrange(doors + 1))]
+                for name in chance.sample("rstuvwxyz", chance.randrange(doors + 1))]
         told = [(name, chance.choice(names), chance.random() < 0.5)
                 for name in chance.sample("abc", chance.randrange(cells + 1))]
         yield House(names, rows, told)
@@ -172,6 +172,19 @@ class Seen(unittest.TestCase):
                 doors[at] = (*door[:3], not door[3])
                 self.check_apart(one, House(one.parts, doors, one.cells))
 
+    def test_told_apart_by_a_cell(self):
+        there = House(EXAMPLE.parts, EXAMPLE.doors, [("c", "loft", False)])
+        self.assertEqual((("go", "gate"), ("see", "c")), told_apart(EXAMPLE, there))
+        gone = House(EXAMPLE.parts, EXAMPLE.doors, [])
+        self.assertEqual((("go", "gate"), ("go", "stair"), ("see", "c")), told_apart(there, gone))
+        more = House(EXAMPLE.parts, EXAMPLE.doors, [("c", "hall", True), ("k", "hall", True)])
+        self.assertEqual((("go", "gate"), ("see", "k")), told_apart(EXAMPLE, more))
+        for one in some_houses(13, 40, 3, 4, 2):
+            for at, cell in enumerate(one.cells):
+                for part in one.parts:
+                    cells = [*one.cells[:at], (cell[0], part, True), *one.cells[at + 1:]]
+                    self.check_apart(one, House(one.parts, one.doors, cells))
+
     def check_apart(self, one, other):
         names = sorted({door[0] for house in (one, other) for door in house.doors})
         cells = sorted({cell[0] for house in (one, other) for cell in house.cells})
@@ -212,7 +225,7 @@ class Ways(unittest.TestCase):
         self.assertEqual(("stair",), closers(EXAMPLE, ["loft"]))
 
     def test_many(self):
-        for house in [*some_houses(6, 60), *some_houses(7, 25, 6, 6)]:
+        for house in [*some_houses(6, 60), *some_houses(7, 60, 6, 8)]:
             for lot in list(lots_of(house))[:14]:
                 self.check_ways(house, lot)
 
@@ -253,12 +266,27 @@ class Ways(unittest.TestCase):
         self.assertTrue(ways_hold(EXAMPLE, ["hall", "cellar"], [("back",), ("gate",)]))
 
     def test_a_way_that_must_be_taken_back(self):
-        # The first shortest way uses the middle door; both ways together do not.
-        text = "part s\npart t\npart u\npart v\ndoor a out s open\ndoor b out t open\ndoor m s t open\n"
-        house = House.read(text + "door x s u open\ndoor y t u open\ndoor z u v open\ndoor w s v open")
-        self.assertEqual(2, len(ways_apart(house, ["v"])))
-        self.assertTrue(ways_hold(house, ["v"], ways_apart(house, ["v"])))
-        self.assertEqual(("a", "b"), closers(house, ["v"]))
+        # The shortest way goes through m; of the two ways together none does.
+        rows = ["door a out pa open", "door m pa pb open", "door b pb pv open", "door x out px open", "door y px pb open",
+                "door s pa py open", "door t py pv shut"]
+        for doors in (rows, rows[::-1], rows[3:] + rows[:3]):
+            house = House.read("\n".join(["part pa", "part pb", "part px", "part py", "part pv", *doors]))
+            ways = ways_apart(house, ["pv"])
+            self.assertEqual([("a", "s", "t"), ("x", "y", "b")], sorted(ways))
+            self.assertTrue(ways_hold(house, ["pv"], ways))
+            self.assertEqual(("a", "x"), closers(house, ["pv"]))
+            turned = House(house.parts, [(name, other, one, True) for name, one, other, _ in house.doors], [])
+            self.assertEqual(sorted(ways), sorted(ways_apart(turned, ["pv"])))
+
+    def test_ways_that_come_twice_to_a_part_or_the_yard(self):
+        text = "part hall\npart cellar\npart loft\ndoor gate out hall open\ndoor back hall out open\n"
+        rings = House.read(text + "door hatch hall cellar open\ndoor chute cellar hall open\ndoor stair hall loft open")
+        self.assertTrue(ways_hold(rings, ["loft"], [("gate", "stair")]))
+        self.assertTrue(ways_hold(rings, ["loft"], [("back", "stair")]))
+        self.assertFalse(ways_hold(rings, ["loft"], [("gate", "hatch", "chute", "stair")]))
+        yard = House.read(text + "door side out cellar open\ndoor stair cellar loft open")
+        self.assertTrue(ways_hold(yard, ["loft"], [("side", "stair")]))
+        self.assertFalse(ways_hold(yard, ["loft"], [("gate", "back", "side", "stair")]))
 
     def test_needful_doors(self):
         self.assertEqual((), needful_doors(EXAMPLE, "cellar"))
