@@ -197,6 +197,12 @@ class Apart(unittest.TestCase):
         other = Kind("b", [*kind.rows[:4], ("tell", "c")])
         self.check(kind, other, house_apart(kind, other))
 
+    def test_what_is_known_is_ascending(self):
+        kind = Kind("a", [("go", "e"), ("shut", "d"), ("see", "k"), ("tell", "c"), ("go", "d")])
+        doors = {state[4][0] for state in alike_lot(kind, kind) if state[0] == 2}
+        self.assertEqual({(("d", -1, 0), ("e", -1, 0)), (("d", 0, 1), ("e", -1, 0))}, doors)
+        self.assertEqual({(("c", 0), ("k", 0))}, {state[4][1] for state in alike_lot(kind, kind) if state[0] == 4})
+
     def test_names_of_cells_that_are_words(self):
         kind = Kind("a", [("go", "go"), ("see", "use"), ("tell", "use"), ("set", "use", 1)])
         known = ((("go", -1, 0),), (("use", 0),), 1)

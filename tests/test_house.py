@@ -208,7 +208,8 @@ class Texts(unittest.TestCase):
         wrong = ["", " ", "part", "part a b", " part a", "part a b c", "Part a", "parts a", "door", "door a out b",
                  "door a out b Open", "door a out b open kept", "door a out b ", "door  a out b open",
                  "door a out b true", "cell", "cell a", "cell a hall Kept", "cell a hall kept kept", "cell a hall ",
-                 "cell a  hall", "kind k", "plan", "part\ta", "door a out b kept", "cell a b open"]
+                 "cell a  hall", "kind k", "plan", "part\ta", "door a out b kept", "cell a b open",
+                 "gate a out b open", "part a out b shut", "room a hall kept", "part a hall kept", "cell a out b open"]
         for row in wrong:
             self.assertEqual(("InvalidText", 0), raised(House.read, row), row)
             self.assertEqual(("InvalidText", 1), raised(House.read, "part Q\n" + row + "\n"), row)
