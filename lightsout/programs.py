@@ -63,7 +63,7 @@ def least_form(kind):
     states = reach((0, None), moves)
     numbers = {state: at for at, state in enumerate(states)}
     deeds = [deed_from(kind, at, pocket) for at, pocket in states]
-    behind = [[numbers[state] for _, state in moves(state)] for state in states]
+    behind = [[numbers[after] for _, after in moves(state)] for state in states]
     firsts = [deeds.index(told) for told in deeds]
     kinds = sorted(set(firsts))
     shown = [tuple([(at, 1 << number) for at, number in enumerate(row)]) for row in behind]

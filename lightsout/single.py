@@ -43,7 +43,8 @@ def _behind(house, kinds, rows, place):
         if told is not None and told[2] is None:
             found[told[1]] = True
     if _may_age(house, place):
-        found[(*place[:3], (*place[3][:2], True))] = True
+        aged = (*place[:3], (*place[3][:2], True))
+        found[aged] = True
     return placed(list(found))
 
 

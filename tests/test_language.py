@@ -232,6 +232,28 @@ class Form(unittest.TestCase):
                     if part.func.attr in ("append", "extend", "pop", "remove", "insert", "clear", "update"):
                         self.assertNotIn(getattr(part.func.value, "id", None), over, f"{name} {part.lineno}")
 
+    def test_no_star_in_an_index(self):
+        self.none(f"{name} {node.lineno}" for name, node in nodes(ast.Subscript)
+                  if any(isinstance(part, ast.Starred) for part in ast.walk(node.slice)))
+
+    def test_comprehensions_within_others_have_names_of_their_own(self):
+        kinds = (ast.ListComp, ast.SetComp, ast.DictComp)
+        for name, node in nodes(*kinds):
+            own = {part.id for told in node.generators for part in ast.walk(told.target) if isinstance(part, ast.Name)}
+            above = node.above
+            while not isinstance(above, ast.Module):
+                if isinstance(above, kinds):
+                    outer = {part.id for told in above.generators for part in ast.walk(told.target)
+                             if isinstance(part, ast.Name)}
+                    self.none(f"{name} {node.lineno} {word}" for word in (own & outer) - {"_"})
+                if isinstance(above, ast.FunctionDef) and isinstance(above.above, ast.FunctionDef):
+                    outer = {part.id for part in ast.walk(above.above) if isinstance(part, ast.Name)
+                             and isinstance(part.ctx, ast.Store)}
+                    inner = {part.id for part in ast.walk(above) if isinstance(part, ast.Name)
+                             and isinstance(part.ctx, ast.Store)}
+                    self.none(f"{name} {node.lineno} {word}" for word in (own & (outer - inner)))
+                above = above.above
+
     def test_lambdas_stand_apart(self):
         lines = [(name, node.lineno) for name, node in nodes(ast.Lambda)]
         self.assertEqual(len(lines), len(set(lines)))
