@@ -3,7 +3,7 @@
 import unittest
 
 from helpers import HOUSE, KIND, VALUES, raised
-from lightsout.guests import Kind
+from lightsout.guests import Kind, first_place, is_still, step
 from lightsout.house import House, first_row
 from lightsout.plans import Plan, World, asked_empty, deed
 
@@ -309,7 +309,6 @@ class ByHand(unittest.TestCase):
         text = "part a\ndoor d out a open\ncell c a\nkind k\ngo d\nsee c\ngo d\ngo d\nuse c\nplan\ndrain a\noff a\non a"
         world = World.read(text)
         self.assertEqual(text, world.text())
-        from lightsout.guests import first_place, step
         house_row, guest, harm = first_row(world.house), first_place(0), None
         for _ in range(2):
             house_row, guest, harm = step(world.house, world.kinds, house_row, guest)
@@ -329,7 +328,6 @@ class ByHand(unittest.TestCase):
     def test_lost(self):
         text = "part hall\ndoor gate out hall open\ncell c hall\nkind k\ngo gate\nset c 1\ntell c\ngo gate\n"
         world = World.read(text + "kind r\ngo gate\nsee c\nplan\ndrain hall\noff hall\non hall")
-        from lightsout.guests import first_place, step
         house_row, guest = first_row(world.house), first_place(0)
         for _ in range(4):
             house_row, guest, harm = step(world.house, world.kinds, house_row, guest)
@@ -338,6 +336,29 @@ class ByHand(unittest.TestCase):
         self.assertEqual(((0,), (3,)), (house_row[2], house_row[4]))
         house_row, guest, harm = step(world.house, world.kinds, house_row, first_place(1))
         self.assertEqual(("lost", "c"), step(world.house, world.kinds, house_row, guest)[2])
+
+    def test_inside(self):
+        world = World.read("part p\ndoor d out p open\ndoor e p out open\nkind a\ngo d\ngo e\nplan\noff p\non p")
+        house_row, guest, _ = step(world.house, world.kinds, first_row(world.house), first_place(0))
+        self.assertEqual((house_row, (guest,), ("inside", "p")), deed(world.house, house_row, [guest], world.plan.deeds[0]))
+        shut = deed(world.house, house_row, [guest], ("shut", "d"))[0]
+        self.assertIsNone(deed(world.house, shut, [guest], ("drain", "p")))
+        self.assertIsNone(step(world.house, world.kinds, shut, first_place(0)))
+        _, guest, harm = step(world.house, world.kinds, shut, guest)
+        self.assertEqual(((0, 2, -1, None), None), (guest, harm))
+        self.assertEqual((shut, (guest,), None), deed(world.house, shut, [guest], ("drain", "p")))
+
+    def test_shut_in(self):
+        rows = ["part hall", "door gate out hall open", "cell pad hall", "kind reader", "go gate", "see pad", "go gate"]
+        world = World.read("\n".join([*rows, "plan", "shut gate"]))
+        first, here, behind = (0, 0, -1, None), (0, 1, 0, None), (0, 2, 0, (0, 0, False))
+        house_row, guest, _ = step(world.house, world.kinds, first_row(world.house), first)
+        self.assertEqual(here, guest)
+        shut, places, harm = deed(world.house, house_row, [first, here], world.plan.deeds[0])
+        self.assertEqual((((False,), (True,), (0,), (0,), (0,)), (first, here), None), (shut, places, harm))
+        self.assertEqual((shut, behind, None), step(world.house, world.kinds, shut, here))
+        self.assertIsNone(step(world.house, world.kinds, shut, behind))
+        self.assertFalse(is_still(world.house, world.kinds, behind))
 
 
 if __name__ == "__main__":

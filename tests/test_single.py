@@ -247,6 +247,15 @@ class Alone(unittest.TestCase):
         self.assertEqual(([(0, -1, None), (1, 0, None), (2, 0, (0, 1, False))], ("lost", "c")),
                          self.end([("go", "d"), ("see", "c")], row=lost))
 
+    def test_one_a_stands_still_and_a_second_one_goes_on(self):
+        house = House(["p", "q"], [("d", "out", "p", True), ("e", "p", "q", True)], [("c", "p", False)])
+        rows = [("go", "d"), ("see", "c"), ("set", "c", 1), ("when", 0, 3), ("go", "e")]
+        told, end = alone(house, [Kind("a", rows)], 0, first_row(house))
+        self.assertEqual((4, ("ring", 3)), (len(told), end))
+        dark = ((True, True), (True, False), (1,), (0,), (0,))
+        told, end = alone(house, [Kind("a", rows)], 0, dark)
+        self.assertEqual((6, ("dark", "q"), (dark, (0, 5, 1, (0, 1, False)))), (len(told), end, told[-1]))
+
     def test_kind_and_names(self):
         kinds = (Kind("a", [("rest",)]), Kind("b", [("go", "d")]))
         row = first_row(SMALL)
