@@ -87,20 +87,54 @@ def masks_of(classes):
     return masks
 
 
-def alike_classes(firsts, shown):
-    """The class of each state, numbered by their first states; alike ones show the same labels to the same classes.
+def class_rounds(firsts, shown):
+    """Rows of the classes of states, each row told apart by what is shown to the classes of the one ahead.
 
     `firsts` tells first classes, numbered from 0 on without a gap; `shown` for each state its pairs
-    (label, number whose bits are states), ascending by label.
+    (label, number whose bits are states), ascending by label. The last row parts no more than the one ahead.
     """
-    now = list(firsts)
-    while True:
-        masks = masks_of(now)
+    rounds = [list(firsts)]
+    while len(rounds) == 1 or max(rounds[-1]) > max(rounds[-2]):
+        masks = masks_of(rounds[-1])
         signs = {}
         found = []
         for state, pairs in enumerate(shown):
             sign = [(label, number) for label, bits in pairs for number, mask in enumerate(masks) if bits & mask]
-            found.append(signs.setdefault((now[state], tuple(sign)), len(signs)))
-        if len(signs) == len(masks):
-            return found
-        now = found
+            found.append(signs.setdefault((rounds[-1][state], tuple(sign)), len(signs)))
+        rounds.append(found)
+    return rounds
+
+
+def alike_classes(firsts, shown):
+    """The class of each state, numbered by their first states; alike ones show the same labels to the same classes."""
+    return class_rounds(firsts, shown)[-1]
+
+
+def walk_lengths(firsts, moves):
+    """For each state that comes how many moves the longest walk to it has, None if there are walks of any length.
+
+    `moves` gives for a state the states behind it, each once.
+    """
+    behind = {}
+    left = list(firsts)
+    while left:
+        state = left.pop()
+        if state not in behind:
+            behind[state] = moves(state)
+            left.extend([other for other in behind[state] if other not in behind])
+    waits = {state: 0 for state in behind}
+    for state in behind:
+        for other in behind[state]:
+            waits[other] += 1
+    longest = {state: 0 for state in behind}
+    ready = [state for state in behind if waits[state] == 0]
+    at = 0
+    while at < len(ready):
+        state = ready[at]
+        for other in behind[state]:
+            longest[other] = max(longest[other], longest[state] + 1)
+            waits[other] -= 1
+            if waits[other] == 0:
+                ready.append(other)
+        at += 1
+    return {state: longest[state] if waits[state] == 0 else None for state in behind}

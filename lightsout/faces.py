@@ -154,7 +154,7 @@ def _bits_of(states):
     return sum([1 << state for state in sorted(set(states))])
 
 
-def _states_of(bits):
+def states_of(bits):
     """The states that are the bits of a number."""
     return [state for state in range(bits.bit_length()) if bits >> state & 1]
 
@@ -188,7 +188,7 @@ def shown_by(moves):
     shown = []
     for bits in hidden:
         labels = {HIDDEN: bits}
-        for mid in _states_of(bits):
+        for mid in states_of(bits):
             for label, more in direct[mid].items():
                 labels[label] = labels.get(label, 0) | more
         shown.append(tuple(sorted(labels.items())))

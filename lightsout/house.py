@@ -185,3 +185,10 @@ def is_row(house, value):
 def turned(row, door, is_open):
     """The house row with a door open, or shut."""
     return (replaced(row[0], door, is_open), *row[1:])
+
+
+def part_named(house, name):
+    """The number of a part, for any value but its name NoName."""
+    if not isinstance(name, str) or name not in house.parts:
+        raise NoName(name)
+    return house.parts.index(name)

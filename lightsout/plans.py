@@ -205,3 +205,10 @@ class World:
     def with_house(self, house):
         """The world with another house."""
         return World(house, self.kinds, self.plan)
+
+
+def hand_deed(world, row, places, hand):
+    """What `deed` tells of the next deed when so many are done; None if there is none, too."""
+    if hand == len(world.plan.deeds):
+        return None
+    return deed(world.house, row, places, world.plan.deeds[hand])

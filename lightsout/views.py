@@ -3,8 +3,8 @@
 from itertools import combinations
 
 from lightsout.basics import is_name, is_sequence, replaced, way_to
-from lightsout.errors import InvalidLot, InvalidOrder, InvalidStory, NoName
-from lightsout.house import House
+from lightsout.errors import InvalidLot, InvalidOrder, InvalidStory
+from lightsout.house import House, part_named
 
 VIEW_DEEDS = ("go", "open", "see")
 
@@ -251,7 +251,7 @@ def closers(house, parts):
 
 def needful_doors(house, part):
     """The doors through which every way to a part goes, in order, None if there is no way."""
-    number = _part_of(house, part)
+    number = part_named(house, part)
 
     def moves(spot):
         """The doors of a spot, with what is behind each."""
@@ -262,13 +262,6 @@ def needful_doors(house, part):
         return None
     every = _all_parts(house)
     return tuple([house.doors[door][0] for door in way if number not in _come_to(house, [door], every)])
-
-
-def _part_of(house, name):
-    """The number of a part, for any value but its name NoName."""
-    if not is_name(name):
-        raise NoName(name)
-    return house.number_of_part(name)
 
 
 def _named(house, numbers):

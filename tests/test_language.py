@@ -49,6 +49,30 @@ INTERFACE = {
              "cut_off(house,order)",
     "apart": "house_apart(kind,other) alike_lot(kind,other) is_apart(kind,other,house,answers)",
     "faces": "Inner:start,comes_next Face:text,__eq__ face(inner,deeds,turns,most) least(machine)",
+    "grace": "Grace:spots_after,longest,is_longest,is_ring,tried,is_ages,least_waits,cheapest,needless,play_tale,"
+             "endless,is_endless",
+    "lots": "guest_moves(house,kinds,caps,row,places) first_standing(world,caps) moves(world,caps,standing) "
+            "fewer(world,caps,standing) Lots:way,story",
+    "stage": "Stage:first,bare,may,play,twin,exchange,alike,least_alike,core,needs",
+    "bells": "log_told(world,sensors,story) tally_groups(house,doors) tallied(house,doors,counts)",
+    "checker": "sheet_holds(world,kind,question,value) wrong_sheets(world,sheets)",
+    "closed": "closed_paper(world,caps,harm) closed_holds(world,caps,paper,harm)",
+    "ends": "out_of(world,standing,place,caps) shut_in(world,part,caps) outs(world,part,caps) "
+            "for_ever(world,part,caps) drains(world,part,caps) with_so_many(world,caps,part)",
+    "facewords": "same_face(one,other) holds(machine,state,sentence) same_words(one,other)",
+    "least": "most_needed(world,story) numbered(world,story) least_guests(world,harm)",
+    "live": "Live:read,put_in,take_out,turn,keep,write,undo,trying,__len__,__str__",
+}
+# The parameters of the methods whose points name some; the others take none.
+METHOD_ARGUMENTS = {
+    "Grace": "__init__(world,times) spots_after(spot,done) longest(part) is_longest(part,number,heights) "
+             "is_ring(part,ring) tried(waits) is_ages(waits,ages) least_waits() cheapest(prices) needless() "
+             "play_tale(entries,waits) endless() is_endless(entries,loops)",
+    "Lots": "__init__(world,caps,bound,is_short) way(number) story(harm)",
+    "Stage": "__init__(world) first() bare(standing) may(standing) play(story) twin(story,guest) exchange(story,at) "
+             "alike(story) least_alike(story) core(story) needs(story)",
+    "Live": "__init__(world) put_in(at,deed) take_out(at) turn(door) keep(cell) write(kind,at,row) undo() "
+            "trying(work)",
 }
 
 
@@ -147,7 +171,7 @@ class Form(unittest.TestCase):
 
     def test_nothing_beyond_the_subset(self):
         kinds = (ast.GeneratorExp, ast.Yield, ast.YieldFrom, ast.Global, ast.Nonlocal, ast.Div, ast.AnnAssign,
-                 ast.NamedExpr, ast.AsyncFunctionDef, ast.Await, ast.Delete, ast.Try, ast.With, ast.Match)
+                 ast.NamedExpr, ast.AsyncFunctionDef, ast.Await, ast.Delete, ast.ExceptHandler, ast.With, ast.Match)
         self.none(f"{name} {node.lineno} {type(node).__name__}" for name, node in nodes(*kinds)
                   if hasattr(node, "lineno"))
         self.none(f"{name}" for name, node in nodes(ast.Div))
@@ -156,6 +180,13 @@ class Form(unittest.TestCase):
             if isinstance(node.value, str):
                 self.assertNotIn("%", node.value)
                 self.assertNotIn("__", node.value)
+
+    def test_finally_assigns_names_alone(self):
+        for name, node in nodes(ast.Try):
+            for told in node.finalbody:
+                self.assertIsInstance(told, ast.Assign, name)
+                for part in ast.walk(told):
+                    self.assertIsInstance(part, (ast.Assign, ast.Tuple, ast.Attribute, ast.Name, ast.expr_context))
 
     def test_names(self):
         taken = set(dir(builtins))
@@ -281,13 +312,26 @@ class Interface(unittest.TestCase):
                 else:
                     self.assertIsInstance(own[word], ast.ClassDef)
 
+    def test_methods_have_the_parameters_of_their_points(self):
+        for _, node in nodes(ast.ClassDef):
+            if node.name not in METHOD_ARGUMENTS:
+                continue
+            own = {part.name: part for part in node.body if isinstance(part, ast.FunctionDef)}
+            for word in METHOD_ARGUMENTS[node.name].split():
+                name, told = word.rstrip(")").split("(")
+                self.assertEqual(["self", *told.split(",")] if told else ["self"],
+                                 [part.arg for part in own[name].args.args], word)
+
     def test_defaults(self):
+        listed = {word.split("(")[0] for words in INTERFACE.values() for word in words.split()}
         found = {(name, node.name): [ast.literal_eval(part) for part in node.args.defaults]
-                 for name, node in nodes(ast.FunctionDef) if node.args.defaults}
-        self.assertEqual({("faces", "face"): [300]}, found)
+                 for name, node in nodes(ast.FunctionDef) if node.args.defaults and node.name in listed | {"__init__"}}
+        ends = {("ends", name): [None] for name in ("out_of", "shut_in", "outs", "for_ever", "drains")}
+        self.assertEqual({("faces", "face"): [300], ("lots", "__init__"): [5000, False], **ends}, found)
 
     def test_every_landed_file_is_listed(self):
-        self.assertLessEqual(set(TREES) - set(INTERFACE), {"__init__", "basics"})
+        own = {"__init__", "basics", "events", "ticks", "waits", "watched"}
+        self.assertLessEqual(set(TREES) - set(INTERFACE), own)
 
 
 if __name__ == "__main__":
