@@ -3,7 +3,7 @@
 from lightsout.basics import is_number, is_sequence, walk_lengths
 
 # Longer than all waits: as long as one likes.
-ENDLESS = 10 ** 9
+ENDLESS = 1000000000
 
 
 def is_waits(value, many):
@@ -13,19 +13,28 @@ def is_waits(value, many):
 
 def is_within(waits, others):
     """Whether waits are nowhere more than others."""
-    return all([wait <= other for wait, other in zip(waits, others)])
+    for wait, other in zip(waits, others):
+        if wait > other:
+            return False
+    return True
 
 
-def least_of(rows):
-    """Those of some waits that have none of the others within, each once."""
-    unlike = sorted(set(rows))
-    return [row for row in unlike if not any([is_within(other, row) and other != row for other in unlike])]
+def _is_within_one(waits, rows):
+    """Whether waits are within one of some rows."""
+    for row in rows:
+        if is_within(waits, row):
+            return True
+    return False
 
 
 def greatest_of(rows):
     """Those of some waits that are within none of the others, each once."""
-    unlike = sorted(set(rows))
-    return [row for row in unlike if not any([is_within(row, other) and other != row for other in unlike])]
+    found = []
+    for row in sorted(set(rows))[::-1]:
+        # What is within another row is less than it.
+        if not _is_within_one(row, found):
+            found.append(row)
+    return found
 
 
 class Worst:
@@ -73,14 +82,29 @@ class Worst:
             found.setdefault(behind, []).append(row)
 
 
+def _is_least(waits, harms):
+    """Whether waits are enough, and not with one of them lessened."""
+    lessened = [waits[:at] + (wait - 1,) + waits[at + 1:] for at, wait in enumerate(waits) if wait > 0]
+    return not _is_within_one(waits, harms) and all([_is_within_one(row, harms) for row in lessened])
+
+
+def _with_last(waits, harms):
+    """The waits with the least last one behind them that is enough, if there is one: one row, or none."""
+    ends = [worst[-1] for worst in harms if is_within(waits, worst)]
+    last = max([-1, *ends]) + 1
+    return [waits + (last,)] if last < ENDLESS else []
+
+
 def least_enough(many, harms):
     """The least of all rows of so many waits that are within none of these, in order."""
-    found = [(0,) * many]
-    for worst in harms:
-        kept = [row for row in found if not is_within(row, worst)]
-        for row in found:
-            if is_within(row, worst):
-                ends = [at for at in range(many) if worst[at] < ENDLESS]
-                kept.extend([row[:at] + (worst[at] + 1,) + row[at + 1:] for at in ends])
-        found = least_of(kept)
-    return tuple(found)
+    if many == 0:
+        return () if harms else ((),)
+    rows = [()]
+    for at in range(many - 1):
+        # A least wait is none at all, or just above one that is too short.
+        ends = sorted({worst[at] + 1 for worst in harms if worst[at] < ENDLESS})
+        rows = [row + (wait,) for row in rows for wait in (0, *ends)]
+    found = []
+    for row in rows:
+        found.extend(_with_last(row, harms))
+    return tuple([row for row in found if _is_least(row, harms)])

@@ -36,6 +36,12 @@ class Logs(unittest.TestCase):
         self.assertEqual(((False, True),), log_told(HALL, both[::-1], ["come k", "step 0", "come k", "step 0"]))
         self.assertEqual(((), ()), log_told(HALL, (), ("hand",)))
 
+    def test_the_bell_does_not_tell_whether_somebody_is_in(self):
+        back, within = [step(Y), step(IN, True)], [step(Y)]
+        self.assertEqual(((True,),), log_told(HALL, [BELL], back))
+        self.assertEqual(((True,),), log_told(HALL, [BELL], within))
+        self.assertNotEqual(log_told(HALL, [LAMP], back), log_told(HALL, [LAMP], within))
+
     def test_each_sensor_ahead_of_each_deed_and_at_the_end(self):
         world = World.read("part p\npart q\ndoor d out p open\ndoor e p q open\ncell c p\ncell m q\nkind k\ngo d\nset c 2\n"
                            "go e\nset m 1\ngo e\ngo d\nplan\non p\non q\noff q")
