@@ -145,6 +145,6 @@ def drains(world, part, caps=None):
 
 def with_so_many(world, caps, part):
     """What `shut_in` and `for_ever` tell for so many guests."""
-    if caps is None or not isinstance(caps, tuple) or None in caps:
+    if not isinstance(caps, tuple) or None in caps:
         raise InvalidSize("caps")
     return shut_in(world, part, caps), for_ever(world, part, caps)

@@ -173,6 +173,48 @@ class Watches(unittest.TestCase):
                     steps, place, (*watch[:at], (*other, triple[2]), *watch[at + 1:]))), other)
         self.assertIs(False, sheet_holds(HALL, "shut in", ("hall", (1,)), SHEET[1]))
 
+    def test_steps_with_a_harm_lead_nowhere(self):
+        world = World.read("part p\npart q\ndoor d out p open\ndoor e p q open\nkind k\ngo d\nrest\nkind m\ngo d\ngo e\n"
+                           "plan\noff q")
+        k, m = (0, 0, -1, None), (1, 0, -1, None)
+        steps, place, watch = shut_in(world, "p")
+        self.assertIs(True, sheet_holds(world, "shut in", ("p", (None, None)), (steps, place, watch)))
+        more = (("step", m, False), *steps)
+        self.assertEqual((("step", k, False), ("hand",)), steps)
+        triples = [((row, tuple(sorted({*places, (1, 1, 0, None)}))), at) for row, places, at in watch]
+        watch = (*watch, *[(row, places, at) for (row, places), at in triples])
+        self.assertIs(True, sheet_holds(world, "shut in", ("p", (None, None)), (more, place, watch)))
+        dark = (*more, ("step", (1, 1, 0, None), False))
+        self.assertIs(True, sheet_holds(world, "lots", (("dark", "q"), (None, None)), dark))
+        self.assertIs(False, sheet_holds(world, "shut in", ("p", (None, None)), (dark, place, watch)))
+        drained = World.read(world.text() + "\ndrain p")
+        steps, stay = for_ever(drained, "p")
+        self.assertIs(True, sheet_holds(drained, "for ever", ("p", (None, None)), (steps, stay)))
+        steps, stay = (("step", k, False), ("step", m, False), ("hand",)), [(row, lot) for row, lot in stay]
+        stay = tuple(dict.fromkeys([*stay, *[(row, tuple(sorted({*lot, (1, 1, 0, None)}))) for row, lot in stay]]))
+        self.assertIs(True, sheet_holds(drained, "for ever", ("p", (None, None)), (steps, stay)))
+        dark = (*steps, ("step", (1, 1, 0, None), False))
+        self.assertIs(False, sheet_holds(drained, "for ever", ("p", (None, None)), (dark, stay)))
+
+    def test_no_greater_one_serves_for_ways(self):
+        world = World.read("part p\npart q\ndoor d out p open\nkind k\ngo d\ngo d\nkind m\nopen d\nplan\ndrain q\nshut d")
+        caps = (None, None)
+        for kind, make, asks in (("comes out", outs, lambda one: one[2] == 2), ("passes", drains, lambda one: one[2] == 0)):
+            part = "p" if kind == "comes out" else "q"
+            standings, ways = make(world, part)
+            self.assertIs(True, sheet_holds(world, kind, (part, caps), (standings, ways)))
+            told = list(ways)
+            rows = []
+            for one in standings:
+                many = 0
+                if asks(one):
+                    many = len({place for place in one[1] if place[2] == 0}) if kind == "comes out" else 1
+                rows.append((one, [told.pop(0) for _ in range(many)]))
+            for at in range(1, len(rows)):
+                left = rows[:at] + rows[at + 1:]
+                value = (tuple(one for one, _ in left), tuple(way for _, some in left for way in some))
+                self.assertIs(False, sheet_holds(world, kind, (part, caps), value), (kind, rows[at]))
+
     def test_counted(self):
         first = ((("step", Y, True), ("hand",)), A, ((SHUT, (A,), A), (SHUT, (B,), B)))
         self.assertIs(True, sheet_holds(HALL, "shut in", ("hall", (1,)), first))

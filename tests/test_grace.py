@@ -8,6 +8,7 @@ from helpers import VALUES, bent, raised, random_world
 from lightsout.grace import Grace
 from lightsout.guests import is_still
 from lightsout.plans import World
+from lightsout.waits import ENDLESS, least_enough
 
 HOUSE = "part p\ndoor d out p open\ndoor e p out open\n"
 THROUGH = World.read(HOUSE + "kind a\ngo d\ngo e\nplan\nshut d\ndrain p\noff p")
@@ -215,7 +216,7 @@ class Spots(unittest.TestCase):
         self.assertEqual(("InvalidSize", "times"), raised(Grace, World.read("part p\nplan"), [[1]]))
         wrong = [*VALUES, *[value for value in bent(IN[2]) if value not in [(0, 1, 0, 2, -1), (0, 1, 0, 1, -1)]],
                  (0, 1, 0, 0, -1), (0, 1, 0, 4, -1), (0, 2, -1, 1, -1), (0, 3, -1, 0, -1), (1, 0, -1, 1, -1),
-                 (-1, 0, -1, 1, -1), (0, -1, -1, 1, -1), (0, 1, 1, 3, -1), (0, 1, -2, 3, -1), (0, 1, 0, 3, 0),
+                 (-1, 0, -1, 1, -1), (0, -1, -1, 1, -1), (0, 1, 1, 3, -1), (0, 1, 1, 0, -1), (0, 1, -2, 0, -1), (0, 1, -2, 3, -1), (0, 1, 0, 3, 0),
                  (0, 1, 0, 3, 2), (0, 2, -1, 0, 0), [*IN[2]], IN[2][:4], (False, 1, 0, 3, -1)]
         for value in wrong:
             self.assertEqual(("InvalidLot", 0), raised(GRACE.spots_after, value, None), value)
@@ -495,6 +496,18 @@ class Enough(unittest.TestCase):
             rounds[end:end] = list(entries[begin:end]) * 30
         self.assertEqual(harm, grace.play_tale(rounds, (30,) * len(hand.drains)))
 
+    def test_least_of_all_rows(self):
+        chance = random.Random(15)
+        self.assertEqual(((0, 8), (2, 6), (6, 0)), least_enough(2, [(1, 7), (2, 0), (5, 5)]))
+        for _ in range(300):
+            many = chance.randrange(1, 4)
+            worst = [tuple(chance.choice([0, 1, 2, 3, ENDLESS]) for _ in range(many)) for _ in range(chance.randrange(5))]
+            rows = list(itertools.product(range(6), repeat=many))
+            enough = {row for row in rows if not any(all(one <= other for one, other in zip(row, some)) for some in worst)}
+            asked = [row for row in rows if row in enough and not any(
+                row[:at] + (row[at] - 1,) + row[at + 1:] in enough for at in range(many))]
+            self.assertEqual(tuple(asked), least_enough(many, worst))
+
     def test_two_drains(self):
         # Either wait alone will do: whoever is in p goes on to q at once, and is out of it soon.
         world = World.read("part p\ndoor d out p open\ndoor e p out open\nkind a\ngo d\ngo e\n"
@@ -518,7 +531,7 @@ class Enough(unittest.TestCase):
         tale = (("come", 0), ("tick", IN[2]), ("hand",), ("tick", IN[1]), ("tick", IN[0]), ("tick", IN[0]), ("hand",), ("hand",))
         self.assertIs(True, STUCK.is_endless(tale, ((5, 6),)))
         for value in [*VALUES, ((4, 5),), ((4, 6),), ((5, 5),), ((6, 5),), ((5, 7),), ((5, 6), (5, 6)), ((5, True),),
-                      ([5, 6],), ((5,),), ((5, 6, 6),), ((-3, -2),), ((5, 66),), ((2, 3),), (5, 6)]:
+                      ([5, 6],), ((5,),), ((5, 6, 6),), ((-3, -2),), ((5, 66),), ((2, 3),), (5, 6), ((None, 6),), ((5, None),), (("5", 6),)]:
             self.assertIs(False, STUCK.is_endless(tale, value), value)
         self.assertIs(False, STUCK.is_endless(tale[:7], ((5, 6),)))
         self.assertEqual(("Refused", 8), raised(STUCK.is_endless, (*tale, ("hand",)), ((5, 6),)))

@@ -99,6 +99,12 @@ class Numbered(unittest.TestCase):
         lit = World.read(world.text().replace("door d out p shut", "door d out p open"))
         self.assertEqual(("come a", "come a", "come b", "hand", "step 0"), numbered(lit, (step(a), ("hand",), step(a))))
 
+    def test_one_alone_does_the_harm(self):
+        world = World.read("part p\ndoor d out p shut\nkind a\nopen d\ngo d\nplan\nshut d\noff p")
+        a, opened = (0, 0, -1, None), (0, 1, -1, None)
+        whats = (step(a), ("hand",), step(a), ("hand",), step(opened))
+        self.assertEqual(("come a", "come a", "step 0", "hand", "step 1", "hand", "step 0"), numbered(world, whats))
+
     def test_an_off_makes_two_places_one(self):
         world = World.read("part p\ndoor d out p open\ncell c p\nkind k\ngo d\nsee c\ngo d\ngo d\nuse c\nplan\noff p\non p\noff p\n"
                            "on p")

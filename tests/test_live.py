@@ -57,6 +57,16 @@ class Deeds(unittest.TestCase):
         self.assertEqual((BOTH, ()), late.write(kind="reader", at=0, row=["go", "gate"]))
         self.assertEqual(5, len(late))
 
+    def test_take_out_and_put_in_one_alone(self):
+        rows = ["on hall", "off hall", "on hall", "drain hall"]
+        head = TEXT[:-len("off hall")]
+        for at in range(4):
+            live = Live.read(head + "\n".join(rows))
+            live.take_out(at)
+            self.assertEqual(head + "\n".join(rows[:at] + rows[at + 1:]), str(live))
+            live.put_in(at, ("shut", "gate"))
+            self.assertEqual(head + "\n".join(rows[:at] + ["shut gate"] + rows[at + 1:]), str(live))
+
     def test_each_deed(self):
         live = Live.read(RICH)
         self.assertEqual((("dark", "p"), ("inside", "p"), ("stale", "c")), live.harms)
