@@ -31,9 +31,9 @@ def event_told(world, value):
     return None
 
 
-def events_told(world, story, most=None):
+def events_told(world, story, most):
     """What each event of any value tells that may be a story, of at most so many events."""
-    if not is_sequence(story) or most is not None and len(story) > most:
+    if not is_sequence(story) or len(story) > most:
         raise InvalidStory(-1)
     told = [event_told(world, event) for event in story]
     if None in told:

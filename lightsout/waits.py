@@ -83,9 +83,9 @@ class Worst:
 
 
 def _is_least(waits, harms):
-    """Whether waits are enough, and not with one of them lessened."""
+    """Whether waits that are enough are not so with one of them lessened."""
     lessened = [waits[:at] + (wait - 1,) + waits[at + 1:] for at, wait in enumerate(waits) if wait > 0]
-    return not _is_within_one(waits, harms) and all([_is_within_one(row, harms) for row in lessened])
+    return all([_is_within_one(row, harms) for row in lessened])
 
 
 def _with_last(waits, harms):

@@ -272,9 +272,12 @@ class Watches(unittest.TestCase):
                  *[(steps, (other,)) for other in bent(stay[0])], ((steps[1], steps[0]), stay)]
         for value in wrong:
             self.assertIs(False, sheet_holds(held, "for ever", question, value), value)
-        free = World.read("part p\ndoor d out p open\nkind k\ngo d\ngo d\nplan\ndrain p\nshut d\ndrain p")
-        standings = Lots(free, (2,)).standings
-        self.assertIsNotNone(for_ever(free, "p", (2,)))
+        late = World.read("part p\npart q\ndoor d out p open\nkind k\ngo d\ngo d\nplan\nshut d\non p\ndrain p\ndrain q")
+        steps, stay = for_ever(late, "p")
+        self.assertIs(True, sheet_holds(late, "for ever", question, (steps, stay)))
+        for some in (steps[:-1], (*steps, ("hand",))):
+            self.assertIs(False, sheet_holds(late, "for ever", question, (some, stay)))
+        self.assertIs(False, sheet_holds(late, "for ever", ("q", ANY), (steps, stay)))
         open_door = World.read("part p\ndoor d out p open\nkind k\ngo d\ngo d\nplan\ndrain p\nshut d")
         standings, ways = drains(open_door, "p", (2,))
         question = ("p", (2,))

@@ -217,7 +217,7 @@ class Spots(unittest.TestCase):
         wrong = [*VALUES, *[value for value in bent(IN[2]) if value not in [(0, 1, 0, 2, -1), (0, 1, 0, 1, -1)]],
                  (0, 1, 0, 0, -1), (0, 1, 0, 4, -1), (0, 2, -1, 1, -1), (0, 3, -1, 0, -1), (1, 0, -1, 1, -1),
                  (-1, 0, -1, 1, -1), (0, -1, -1, 1, -1), (0, 1, 1, 3, -1), (0, 1, 1, 0, -1), (0, 1, -2, 0, -1), (0, 1, -2, 3, -1), (0, 1, 0, 3, 0),
-                 (0, 1, 0, 3, 2), (0, 2, -1, 0, 0), [*IN[2]], IN[2][:4], (False, 1, 0, 3, -1)]
+                 (0, 1, 0, 3, 2), (0, 1, 0, 3, -2), (0, 2, -1, 0, -2), (0, 2, -1, 0, 0), [*IN[2]], IN[2][:4], (False, 1, 0, 3, -1)]
         for value in wrong:
             self.assertEqual(("InvalidLot", 0), raised(GRACE.spots_after, value, None), value)
         self.assertIsNone(raised(GRACE.spots_after, (0, 1, 0, 3, 1), 0))
@@ -438,7 +438,7 @@ class Enough(unittest.TestCase):
                  (good[0], (good[1][0], (IN[0], 3), *good[1][2:]), *good[2:]),
                  (good[0], good[1], good[2][:1], good[3]), (*good[:3], good[3][:1]),
                  (*good[:2], (good[2][0], (IN[0], 0), good[2][1]), good[3]),
-                 (good[0][:1] + good[0][2:], *good[1:]), *VALUES]
+                 (good[0][:1] + good[0][2:], *good[1:]), (*good[:3], None), (*good[:3], ""), (*good[:3], 1), *VALUES]
         for value in wrong:
             self.assertIs(False, GRACE.is_ages((3,), value), value)
         for value in bent(good):
@@ -453,6 +453,14 @@ class Enough(unittest.TestCase):
         self.assertIs(False, grace.is_ages((), rows))
         calm = Grace(World.read(HOUSE + "kind a\nrest\nplan\noff p"), [[3]])
         self.assertEqual((True, ((((0, 0, -1, 0, -1), 0),),) * 2), calm.tried(()))
+
+    def test_an_off_of_a_dark_part_does_no_harm(self):
+        # Nobody can come there; but ages may have such a spot, too.
+        grace = Grace(World.read("part p\nkind a\nrest\nplan\noff p\noff p"), [[1]])
+        rest, within = ((0, 0, -1, 0, -1), 0), ((0, 0, 0, 0, -1), 0)
+        self.assertIs(True, grace.is_ages((), ((rest,), (rest, within), (rest, within))))
+        self.assertIs(False, grace.is_ages((), ((rest, within), (rest, within), (rest, within))))
+        self.assertIs(False, grace.is_ages((), ((rest,), (rest, within), (rest,))))
 
     def test_least_waits(self):
         chance = random.Random(14)

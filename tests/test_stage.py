@@ -368,6 +368,13 @@ class Alike(unittest.TestCase):
         self.assertEqual(((),), stage.alike(()))
         self.assertEqual(((), ()), stage.least_alike(()))
 
+    def test_just_400(self):
+        stage = Stage(World.read("part p\ndoor d out p open\ndoor e p out open\ncell m p kept\nkind a\ngo d\nagain 2\nplan\n"
+                                 "drain p\nshut d"))
+        story = ("come a", "hand", "come a", "step 0", "come a", "step 1", "hand", "step 0", "step 1")
+        self.assertEqual(400, len(stage.alike(story)))
+        self.assertEqual(stage.alike(story)[0], stage.least_alike(story)[0])
+
     def test_limit(self):
         stage = Stage(World.read("part a\nkind k\nagain 0\nkind m\nagain 0\nplan\n" + "\n".join(["on a"] * 12)))
         counts = {}
