@@ -127,7 +127,7 @@ class Logs(unittest.TestCase):
             if not isinstance(value, (list, tuple)):
                 self.assertEqual(("InvalidSensor", -1), raised(log_told, HALL, value, None), value)
         wrong = [*VALUES, BELL, ("bell", "hall"), ("lamp", "gate"), ("lamp", "out"), ("face", "hall"), ("bell",),
-                 ("bell", "gate", 1), ("door", "gate"), (None, "gate"), ("bell", None), list(LAMP), "lamp", ("Lamp", "hall")]
+                 ("bell", "gate", 1), ("door", "gate"), (None, "gate"), ("bell", None), (["bell"], "gate"), list(LAMP), "lamp", ("Lamp", "hall")]
         for value in wrong:
             self.assertEqual(("InvalidSensor", 1), raised(log_told, HALL, [BELL, value, None], None), value)
 
@@ -151,6 +151,10 @@ class Logs(unittest.TestCase):
                           ([("hand",), step(Y)], 1), ([("hand",), ("hand",)], 1), ([step(Y), step(IN, True), step(IN)], 2),
                           ([step(Y), step(IN), step(BACK)], 2), (["come k", "step 0", "step 0", "step 0"], 3)]:
             self.assertEqual(("Refused", at), raised(log_told, HALL, [BELL], story), story)
+        two = World.read(HALL.text().replace("kind k", "kind a\nrest\nkind k"))
+        first = (1, 0, -1, None)
+        self.assertEqual(((True,),), log_told(two, [BELL], [step(first)]))
+        self.assertEqual(("Refused", 0), raised(log_told, two, [BELL], [step(first, True)]))
 
     def test_long_stories(self):
         self.assertEqual(((False,),), log_told(HALL, [BELL], ["come k"] * 300))

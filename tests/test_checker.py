@@ -161,7 +161,8 @@ class Watches(unittest.TestCase):
         wrong = [(steps, B, watch), (steps, Y, watch), (steps[:1], A, watch), (steps[1:], A, watch), (list(steps), A, watch),
                  (steps, A, watch[:1]), (steps, A, watch[1:]), (steps, A, ()), (steps, A, list(watch)), (steps, A),
                  (steps, A, watch, ()), [steps, A, watch], (steps, A, (*watch, (LIT, (Y, A), A))),
-                 (steps, A, (*watch, (SHUT, (Y, A), Y))), (steps, A, (*watch, (SHUT, (A, Y), A))),
+                 (steps, A, (*watch, (SHUT, (Y, A), Y))), (steps, A, (*watch, (SHUT, (Y, A, B), Y))),
+                 (steps, A, (*watch, (SHUT, (A, Y), A))),
                  (steps, A, (*watch, (SHUT, (Y, B), A))), (steps, A, (*watch, (SHUT, (A,), A))), (steps, [*A], watch),
                  (steps, A, ((SHUT, (Y, A), A), (SHUT, (Y, A, B), B))), (steps, None, watch), (None, A, watch),
                  ((*steps, ("step", A, False)), A, watch[1:]), *VALUES]

@@ -302,6 +302,13 @@ class Stays(unittest.TestCase):
         self.assertIs(True, Grace(World.read("part p\nkind a\nrest\nplan"), [[1]]).is_longest("p", 0, []))
         self.assertIs(False, GRACE.is_ring("p", ()))
 
+    def test_a_stay_of_one_tick(self):
+        grace = Grace(THROUGH, [[1, 1]])
+        self.assertEqual((1, ((IN[0], 1),)), grace.longest("p"))
+        self.assertIs(True, grace.is_longest("p", 1, ((IN[0], 1),)))
+        self.assertIs(False, grace.is_longest("p", True, ((IN[0], 1),)))
+        self.assertIs(False, grace.is_longest("p", 1, ((IN[0], True),)))
+
     def test_rings(self):
         world = World.read("part p\ndoor d out p open\ncell c p\nkind a\ngo d\nsee c\nagain 1\nplan\noff p")
         grace = Grace(world, [[1, 2, 1]])
@@ -515,6 +522,22 @@ class Enough(unittest.TestCase):
             asked = [row for row in rows if row in enough and not any(
                 row[:at] + (row[at] - 1,) + row[at + 1:] in enough for at in range(many))]
             self.assertEqual(tuple(asked), least_enough(many, worst))
+
+    def test_tales_into_the_dark(self):
+        world = World.read("part p\ndoor d out p shut\nkind a\ngo d\nplan\noff p\nopen d")
+        grace = Grace(world, [[2]])
+        first, last, within = (0, 0, -1, 2, -1), (0, 0, -1, 1, -1), (0, 1, 0, 0, -1)
+        is_enough, (entries, harm) = grace.tried(())
+        self.assertEqual((False, ("dark", "p"), 5), (is_enough, harm, len(entries)))
+        self.assertEqual(("tick", within), entries[-1])
+        self.assertEqual(harm, grace.play_tale(entries, ()))
+        self.assertEqual(((("come", 0), ("tick", last), ("tick", within)), None), (tuple(
+            entry for entry in entries if entry != ("hand",)), grace.play_tale((("come", 0), ("tick", first)), ())))
+        late = Grace(World.read(world.text() + "\ndrain p\non p"), [[2]])
+        entries, loops, harm = late.endless()
+        self.assertEqual((("dark", "p"), ()), (harm, loops))
+        self.assertIs(True, late.is_endless(entries, loops))
+        self.assertEqual((), late.least_waits())
 
     def test_two_drains(self):
         # Either wait alone will do: whoever is in p goes on to q at once, and is out of it soon.

@@ -74,6 +74,13 @@ class Numbered(unittest.TestCase):
         self.assertEqual(("come k", "hand", "step 0"), numbered(HALL, two))
         self.assertEqual(1, most_needed(HALL, two))
 
+    def test_nobody_comes_of_a_kind_that_is_not_needed(self):
+        story = numbered(LOST, [step((1, 0, -1, None)), step((1, 1, 0, None))])
+        self.assertEqual(["come k", *["come r"] * 3], list(story[:4]))
+        world = World.read(HOUSE + KINDS + "off hall")
+        self.assertEqual(("come r", "step 0", "hand"), numbered(world, [step((1, 0, -1, None)), ("hand",)]))
+        self.assertEqual(1, most_needed(world, [step((1, 0, -1, None)), ("hand",)]))
+
     def test_inside_needs_the_first_place_in_the_part(self):
         world = World.read("part p\ndoor d out p open\ncell c p\nkind a\ngo d\nuse c\nkind b\ngo d\nplan\noff p")
         a, b = (0, 0, -1, None), (1, 0, -1, None)
@@ -195,7 +202,9 @@ class Least(unittest.TestCase):
         self.assertEqual((1, 1), caps)
         self.assertEqual(2, len([event for event in story if event.startswith("come")]))
         alone = World(world.house, world.kinds[:1], world.plan)
-        self.assertEqual((2,), least_guests(alone, ("dark", "q"))[0])
+        caps, story = least_guests(alone, ("dark", "q"))
+        self.assertEqual((2,), caps)
+        self.assertEqual(("dark", "q"), Stage(alone).play(story)[1][1])
 
     def test_as_by_hand(self):
         """By lots with any number just what by some number: the doc's [11]."""

@@ -231,6 +231,18 @@ class AllStandings(unittest.TestCase):
             shorter += len(short.standings) < len(whole.standings)
         self.assertGreater(shorter, 30)
 
+    def test_stories_of_each_harm(self):
+        kinds = "kind a\ngo d\nset c 1\ntell c\ngo d\nkind b\ngo d\nsee c\ngo d\ngo d\nuse c\n"
+        world = World.read("part p\ndoor d out p open\ncell c p\n" + kinds + "plan\noff p\non p")
+        lots = Lots(world, (1, 1))
+        for harm in (("inside", "p"), ("dark", "p"), ("stale", "c"), ("lost", "c")):
+            whats = lots.story(harm)
+            standing = first_standing(world, (1, 1))
+            for at, what in enumerate(whats):
+                standing, done = next(move[1:] for move in moves(world, (1, 1), standing) if move[0] == what)
+                self.assertEqual(harm if at + 1 == len(whats) else None, done)
+        self.assertEqual(4, len(lots.harms))
+
     def test_bound(self):
         many = len(Lots(HALL, ANY).standings)
         self.assertEqual(many, len(Lots(world=HALL, caps=ANY, bound=many, is_short=False).standings))
