@@ -56,11 +56,11 @@ def _needs_ahead_of_step(world, standing, row, place, needs):
     """How many are needed at each place ahead of a step, and how many do it; `row` is the house row behind it."""
     to = step(world.house, world.kinds, standing[0], place)[1]
     many = 0 if row == standing[0] else 1
+    ahead = {one: needs[one] for one in needs}
+    # Where nobody stood those who are needed are those who come; at a taken place they stand there already.
     if to not in standing[1]:
         many = max(many, needs.get(to, 0))
-    ahead = {one: needs[one] for one in needs}
-    # Who comes is one of those who are needed there.
-    ahead[to] = max(0, needs.get(to, 0) - many)
+        ahead[to] = 0
     ahead[place] = ahead.get(place, 0) + many
     return ahead, many
 

@@ -102,9 +102,29 @@ class Numbered(unittest.TestCase):
         went = (step(a), step((0, 1, 0, None)), step((0, 2, -1, None)))
         self.assertEqual(4 + 1, most_needed(again, went))
         self.assertEqual(3 + 1, most_needed(again, (step(a), step((0, 1, 0, None), True), step(a))))
-        # The one who opens the door again is the one who is needed there at the end: nobody opens it while it is open.
+        # Who stands behind the door opened first goes on being needed there: one more opens it again.
         lit = World.read(world.text().replace("door d out p shut", "door d out p open"))
-        self.assertEqual(("come a", "come a", "come b", "hand", "step 0"), numbered(lit, (step(a), ("hand",), step(a))))
+        self.assertEqual(("come a", "come a", "come a", "come b", "step 0", "hand", "step 1"),
+                         numbered(lit, (step(a), ("hand",), step(a))))
+
+    def test_those_at_a_taken_place_stay_needed(self):
+        world = World.read("part a\ndoor d out a open\ncell s a\nkind k\ngo d\nset s 1\nset s 0\nplan")
+        y, one, two, three = (0, 0, -1, None), (0, 1, 0, None), (0, 2, 0, None), (0, 3, 0, None)
+        story = (step(y), step(one), step(two), step(one))
+        due = ("come k",) * 5 + ("step 0", "step 1", "step 2", "step 3", "step 0", "step 1", "step 0", "step 2")
+        self.assertEqual(due, numbered(world, story))
+        self.assertEqual(5, most_needed(world, story))
+        played = Stage(world).play(due)[0][-1]
+        self.assertEqual([y, one, two, two, three], sorted(played[1], key=lambda place: place[:3]))
+        # By a step to a taken place by which all go one is needed as well, but all who stand there go.
+        story = (step(y), step(one), step(two), step(one, True))
+        self.assertEqual(4, most_needed(world, story))
+        self.assertEqual(("come k",) * 4 + ("step 0", "step 1", "step 2", "step 0", "step 1", "step 0", "step 2"),
+                         numbered(world, story))
+        # The house row does not change by the last step: nobody is needed, and nobody stands there to go.
+        story = (step(y), step(one), step(one, True))
+        self.assertEqual(2, most_needed(world, story))
+        self.assertEqual(("come k", "come k", "step 0", "step 0"), numbered(world, story))
 
     def test_one_alone_does_the_harm(self):
         world = World.read("part p\ndoor d out p shut\nkind a\nopen d\ngo d\nplan\nshut d\noff p")
