@@ -1,5 +1,7 @@
 """What the modules share: forms of values, searches in breadth, and classes of alike states."""
 
+from itertools import combinations
+
 
 def is_integer(value):
     """Whether any value is an integer."""
@@ -26,6 +28,25 @@ def is_name(value):
     if not isinstance(value, str) or not 1 <= len(value) <= 8 or value == "out":
         return False
     return all(["a" <= sign <= "z" for sign in value])
+
+
+def is_same(one, other):
+    """Whether two values are equal, also within tuples and lists, where no bool is equal to a number."""
+    if is_sequence(one) and is_sequence(other):
+        if isinstance(one, tuple) != isinstance(other, tuple) or len(one) != len(other):
+            return False
+        return all([is_same(part, more) for part, more in zip(one, other)])
+    return isinstance(one, bool) == isinstance(other, bool) and one == other
+
+
+def is_within(lot, other):
+    """Whether all of a lot is in another one."""
+    return all([one in other for one in lot])
+
+
+def subsets(many):
+    """All lots of so many numbers, those of fewer first."""
+    return [lot for size in range(many + 1) for lot in list(combinations(range(many), size))]
 
 
 def replaced(row, at, value):
@@ -61,14 +82,18 @@ def reach(first, moves):
     return [entry[0] for entry in search(first, moves, lambda state: False)]
 
 
-def labels_to_last(met):
-    """The labels of the moves that lead to the last entry of a search."""
+def labels_to(met, at):
+    """The labels of the moves that lead to an entry of a search."""
     labels = []
-    at = len(met) - 1
     while met[at][1] >= 0:
         labels.append(met[at][2])
         at = met[at][1]
     return tuple(labels[::-1])
+
+
+def labels_to_last(met):
+    """The labels of the moves that lead to the last entry of a search."""
+    return labels_to(met, len(met) - 1)
 
 
 def way_to(first, moves, is_goal):

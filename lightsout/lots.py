@@ -297,6 +297,23 @@ class Lots:
         return (*self.way(number), what)
 
 
+def led_along(world, caps, whats):
+    """Where a row of any values leads as whats: the standings ahead of each and behind the last one, and its harm.
+
+    Last it tells the number of the first one that can't be, or stands behind a harm; None if there is none.
+    """
+    standings, harm = [first_standing(world, caps)], None
+    for at, what in enumerate(whats):
+        found = []
+        if harm is None and is_what(world, what):
+            found = [move for move in moves_from(world, caps, standings[-1]) if move[0] == what]
+        if not found:
+            return standings, harm, at
+        _, behind, harm = found[0]
+        standings.append(behind)
+    return standings, harm, None
+
+
 def is_what(world, value):
     """Whether any value has the form of what is done by a move."""
     if not isinstance(value, tuple) or not value:

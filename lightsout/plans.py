@@ -65,6 +65,15 @@ def check_deeds(house, deeds):
         _number_of(house, told)
 
 
+def is_deed_of(house, value):
+    """Whether any value is a deed, as a tuple, of something that a house has."""
+    if not isinstance(value, tuple) or not _is_deed(value):
+        return False
+    if value[0] in DOOR_DEEDS:
+        return value[1] in [door[0] for door in house.doors]
+    return value[1] in (house.parts if value[0] in PART_DEEDS else [cell[0] for cell in house.cells])
+
+
 def _number_of(house, told):
     """The number of the door, the part or the cell that a deed tells."""
     if told[0] in DOOR_DEEDS:

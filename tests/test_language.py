@@ -61,6 +61,30 @@ INTERFACE = {
             "for_ever(world,part,caps) drains(world,part,caps) with_so_many(world,caps,part)",
     "facewords": "same_face(one,other) holds(machine,state,sentence) same_words(one,other)",
     "least": "most_needed(world,story) numbered(world,story) least_guests(world,harm)",
+    "orders": "in_row(world,row) safe_order(world,pairs) order_paper(world,pairs) order_story(world,pairs) "
+              "order_passes(world,pairs) order_paper_holds(world,pairs,value) order_story_holds(world,pairs,value) "
+              "needful_pairs(world,pairs) least_orders(world) must_keep(world,pairs) least_cuts(world)",
+    "swaps": "inner_of(world,name,gate_in,gate_out) exchanged_in(world,inner)",
+    "traces": "trace(world,story,guest) is_seen(world,kind,text) story_for(world,kind,text)",
+    "books": "Book:put,knows,first_deeds",
+    "desk": "Desk:say",
+    "harms": "Verdict:is_like Least:is_like Meeting:is_like harm_names(world) comes_with(world,harm,caps) "
+             "check_verdict(world,harm,caps,value) least_kinds(world,harm) least_deeds(world,harm) "
+             "check_least(world,harm,of,value) harms_meet(world,one,other) check_meeting(world,one,other,value) "
+             "only_behind(world,harm,other) check_behind(world,harm,other,value)",
+    "kept": "keepings(house) kept_world(world,keeping) never_off(world) telling(world,kinds,keeping) "
+            "is_good(world,kinds,keeping) good_keepings(world,kinds) least_good(world,kinds) gap(world,kinds) "
+            "telling_paper(world,kinds,keeping) telling_holds(world,kinds,keeping,value) "
+            "calm_paper(world,kinds,keeping) calm_holds(world,kinds,keeping,value)",
+    "repair": "Repair:changed,verdict,least_changes,harmed_changes,spare,drain_cuts,is_drain_cuts",
+    "surely": "stretch(world,sensors,starts) fits(world,sensors,log) clash_at(world,sensors,log) "
+              "surely(world,sensors,log,saying,is_so) sure_holds(world,sensors,log,saying,is_so,value) "
+              "sure_for_ever(world,sensors,log,saying,is_so) good_entries(world,sensors) "
+              "bad_story(world,sensors,at,entry) undecided(world,sensors,saying,many) "
+              "least_sensors(world,choice,saying,many)",
+    "anew": "Anew:one_fall,falls,once,good_once,ever,is_closed,good_ever,play_falls",
+    "stairs": "Stairs:is_like is_above(vector,other) is_below(vector,caps) least_numbers(world,harm) "
+              "check_stairs(world,harm,value)",
     "live": "Live:read,put_in,take_out,turn,keep,write,undo,trying,__len__,__str__",
 }
 # The parameters of the methods whose points name some; the others take none.
@@ -73,6 +97,16 @@ METHOD_ARGUMENTS = {
              "alike(story) least_alike(story) core(story) needs(story)",
     "Live": "__init__(world) put_in(at,deed) take_out(at) turn(door) keep(cell) write(kind,at,row) undo() "
             "trying(work)",
+    "Book": "__init__(world) put(sheet) knows(claim,question) first_deeds(sheet,many)",
+    "Desk": "__init__() say(command)",
+    "Verdict": "__init__(whats,paper) is_like(other)",
+    "Least": "__init__(lots,whats,barred,papers) is_like(other)",
+    "Meeting": "__init__(whats,both,paper) is_like(other)",
+    "Stairs": "__init__(vectors,tales,corners,papers) is_like(other)",
+    "Repair": "__init__(world) changed(change) verdict(change) least_changes(deeds,most) harmed_changes(deeds,most) "
+              "spare() drain_cuts(points) is_drain_cuts(points,least,greatest)",
+    "Anew": "__init__(world) one_fall(row,mark) falls() once(marks) good_once() ever(marks) "
+            "is_closed(marks,standings) good_ever() play_falls(marks,entries)",
 }
 
 
@@ -325,12 +359,14 @@ class Interface(unittest.TestCase):
     def test_defaults(self):
         listed = {word.split("(")[0] for words in INTERFACE.values() for word in words.split()}
         found = {(name, node.name): [ast.literal_eval(part) for part in node.args.defaults]
-                 for name, node in nodes(ast.FunctionDef) if node.args.defaults and node.name in listed | {"__init__"}}
+                 for name, node in nodes(ast.FunctionDef) if name in INTERFACE and node.args.defaults and node.name in listed | {"__init__"}}
         ends = {("ends", name): [None] for name in ("out_of", "shut_in", "outs", "for_ever", "drains")}
-        self.assertEqual({("faces", "face"): [300], ("lots", "__init__"): [5000, False], **ends}, found)
+        told = {("surely", name): [True] for name in ("surely", "sure_for_ever")}
+        due = {("faces", "face"): [300], ("lots", "__init__"): [5000, False], **ends, **told}
+        self.assertEqual({key: due[key] for key in due if key[0] in TREES}, found)
 
     def test_every_landed_file_is_listed(self):
-        own = {"__init__", "basics", "events", "ticks", "waits", "watched"}
+        own = {"__init__", "basics", "crowds", "events", "ground", "looks", "sights", "tellers", "ticks", "trials", "waits", "watched"}
         self.assertLessEqual(set(TREES) - set(INTERFACE), own)
 
 
