@@ -186,7 +186,8 @@ def check_least(world, harm, of, value):
     left = [lot for lot in subsets(many) if not _has_any(lot, value.lots)]
     if list(value.barred) != sorted(_greatest(left) if of == "kinds" else left):
         return False
-    if list(value.lots) != sorted(value.lots) or len(_greatest(value.lots)) < len(value.lots):
+    # Unlike ones in order, none within another one.
+    if list(value.lots) != sorted(set(value.lots)) or len(_greatest(value.lots)) < len(value.lots):
         return False
     with_lot = _with_kinds if of == "kinds" else _with_deeds
     for lot, whats in zip(value.lots, value.whats):
