@@ -51,7 +51,7 @@ def _text_of(words):
     return " ".join([word_text(word) for word in words])
 
 
-def _least_telling(world, kept, crowd, numbers):
+def _least_telling(kept, crowd, numbers):
     """The number of the kind and the words of the least trace by which one of some kinds can tell; None for none."""
     found = None
     for number in numbers:
@@ -61,11 +61,19 @@ def _least_telling(world, kept, crowd, numbers):
     return found
 
 
+def _with_idle(world, keeping):
+    """A keeping with the cells, too, that no kind sets and no kind uses: they make nothing good or bad."""
+    rows = [row for kind in world.kinds for row in kind.rows]
+    busy = [row[1] for row in rows if row[0] in ("set", "use")]
+    return tuple([cell[0] for cell in world.house.cells if cell[0] in keeping or cell[0] not in busy])
+
+
 def _told_by(world, kinds, keeping):
     """The kept world, the kinds' numbers, and what `_least_telling` tells; for what may be refused."""
     numbers = _checked_kinds(world, kinds)
     kept = kept_world(world, keeping)
-    return kept, numbers, _least_telling(world, kept, Crowd(never_off(world)), numbers)
+    alike = kept_world(world, _with_idle(world, keeping))
+    return kept, numbers, _least_telling(alike, Crowd(never_off(world)), numbers)
 
 
 def telling(world, kinds, keeping):
@@ -83,11 +91,12 @@ def good_keepings(world, kinds):
     """All good keepings."""
     numbers = _checked_kinds(world, kinds)
     crowd = Crowd(never_off(world))
-    found = []
+    good = {}
     for keeping in keepings(world.house):
-        if _least_telling(world, kept_world(world, keeping), crowd, numbers) is None:
-            found.append(keeping)
-    return tuple(found)
+        alike = _with_idle(world, keeping)
+        if alike not in good:
+            good[alike] = _least_telling(kept_world(world, alike), crowd, numbers) is None
+    return tuple([keeping for keeping in keepings(world.house) if good[_with_idle(world, keeping)]])
 
 
 def least_good(world, kinds):

@@ -64,6 +64,11 @@ class Sights:
             self._ends[sight] = self._end_of(sight)
         return self._ends[sight]
 
+    def ends_for(self, sight):
+        """All ends that a sight behind this one may have."""
+        end = self.end_of(sight)
+        return [end] if self._is_strict else list(range(sight[2], end + 1))
+
     def _end_of(self, sight):
         row, bits, hand, place = sight
         doors = [is_open or opened for is_open, opened in zip(self.ground.row_at(row)[0], self._opened)]
@@ -170,34 +175,46 @@ class Sights:
     def _grown_once(self, sight, labels):
         """The sight behind steps from each place that only help; the labels of these are put behind the others."""
         row, bits, hand, place = sight
-        end = self.end_of(sight)
+        asked = self._asked[hand:self.end_of(sight)]
         for spot in self.ground.lot_of(bits):
             told = self.ground.stepped(row, spot)
             if told is None or told[2] is not None or told[0] != row or told[1] == spot:
                 continue
             to = 1 << told[1]
-            # What the step has led to may be known only now.
-            asked = self.asked_bits(hand, end)
+            is_free = self.ground.place_at(told[1])[2] not in asked
             if not self.ground.idle >> spot & 1:
-                if not to & (asked | self.ground.idle | bits):
+                if is_free and not to & (self.ground.idle | bits):
                     bits |= to
                     labels.append((spot, False))
-            elif asked >> spot & 1 and (to & bits or not to & asked):
+            elif self.ground.place_at(spot)[2] in asked and (is_free or to & bits):
                 bits ^= 1 << spot
                 labels.append((spot, True))
-        return self.bare((row, bits, hand, place))
+        return self.bare((row, bits, hand, place)) if bits != sight[1] else sight
 
     def spread(self, sights):
-        """All sights that unseen moves lead to from some, these too, but those behind others; in order."""
+        """Some of these sights from which unseen moves lead to all that they lead to from all; and all that, in order.
+
+        What is behind others is left out.
+        """
         tops = Tops(self)
-        left = list(sights)
+        seen = {}
+        seeds = []
         found = []
-        while left:
-            _, better = self.grown(self.bare(left.pop()))
-            if tops.put(better, 0):
-                found.append(better)
-                left.extend([behind for _, behind in self.unseen(better)])
-        return self._greatest_of(found)
+        for seed in sights:
+            many = len(found)
+            left = [seed]
+            while left:
+                sight = left.pop()
+                if sight in seen:
+                    continue
+                seen[sight] = True
+                _, better = self.grown(self.bare(sight))
+                if tops.put(better, 0):
+                    found.append(better)
+                    left.extend([behind for _, behind in self.unseen(better) if behind not in seen])
+            if len(found) > many:
+                seeds.append(self.bare(seed))
+        return tuple(seeds), self._greatest_of(found)
 
     def _greatest_of(self, sights):
         """Those of some sights that are behind no other one, in order."""
@@ -262,5 +279,5 @@ class Tops:
 
     def keep(self, sight, mark):
         """Keep a sight with a mark."""
-        for end in range(sight[2], self._sights.end_of(sight) + 1):
+        for end in self._sights.ends_for(sight):
             self._lots.setdefault(self._key(sight, end), []).append((sight[1], mark))

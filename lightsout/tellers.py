@@ -10,12 +10,14 @@ class Crowd:
         self.sights = Sights(world, is_strict)
         self._rows = []
         self._row_numbers = {}
+        # For each row some sights of which all of it is due.
+        self._seeds = []
         self._tops = []
         self._unders = {}
         self._dues = {}
         self._nexts = {}
 
-    def number_of(self, row):
+    def number_of(self, row, seeds=()):
         """The number of a tuple of sights."""
         if row not in self._row_numbers:
             tops = Tops(self.sights)
@@ -23,6 +25,7 @@ class Crowd:
                 tops.keep(sight, 0)
             self._row_numbers[row] = len(self._rows)
             self._rows.append(row)
+            self._seeds.append(seeds)
             self._tops.append(tops)
         return self._row_numbers[row]
 
@@ -30,22 +33,30 @@ class Crowd:
         """The tuple of sights that has a number."""
         return self._rows[number]
 
+    def seeds_at(self, number):
+        """Some sights of which all is due that is told by a number."""
+        return self._seeds[number]
+
+    def _due_of(self, sights):
+        """The number of what is due of some sights, but what is behind others."""
+        seeds, row = self.sights.spread(sights)
+        return self.number_of(row, seeds)
+
     def opening(self, kind):
         """The number of what is due of a kind's first sight."""
-        return self.number_of(self.sights.spread([self.sights.first_of(kind)]))
+        return self._due_of([self.sights.first_of(kind)])
 
     def due(self, number):
-        """The number of all that unseen moves lead to from a row, it too, but what is behind others."""
+        """The number of what is due of a row."""
         if number not in self._dues:
-            self._dues[number] = self.number_of(self.sights.spread(self._rows[number]))
+            self._dues[number] = self._due_of(self._rows[number])
         return self._dues[number]
 
     def behind(self, number, word):
         """The number of what is due of what those steps lead to from a row that show a word."""
         if (number, word) not in self._nexts:
             told = [self.sights.seen(sight) for sight in self._rows[number]]
-            shown = [one[1] for one in told if one is not None and one[0] == word]
-            self._nexts[number, word] = self.number_of(self.sights.spread(shown))
+            self._nexts[number, word] = self._due_of([one[1] for one in told if one is not None and one[0] == word])
         return self._nexts[number, word]
 
     def is_under(self, one, other):
@@ -68,13 +79,18 @@ class Teller:
     def _fresh(self, sights, number):
         """All that unseen moves lead to from some sights beside a row and that is not served by what is met."""
         left = list(sights)
+        seen = {}
         found = []
         while left:
-            _, better = self._sights.grown(self._sights.bare(left.pop()))
+            sight = left.pop()
+            if sight in seen:
+                continue
+            seen[sight] = True
+            _, better = self._sights.grown(self._sights.bare(sight))
             if self._tops.put(better, number):
                 found.append(better)
                 self._pairs.append((better, number))
-                left.extend([behind for _, behind in self._sights.unseen(better)])
+                left.extend([behind for _, behind in self._sights.unseen(better) if behind not in seen])
         return found
 
     def _shown(self, sights):
@@ -102,11 +118,11 @@ class Teller:
         return None
 
     def pairs(self):
-        """All sights that have been met, each with the sights of its row."""
+        """All sights that have been met, each with some of which its row is due."""
         rows = {}
         for _, number in self._pairs:
             if number not in rows:
-                rows[number] = tuple([self._crowd.sights.sight_of(sight) for sight in self._crowd.row_at(number)])
+                rows[number] = tuple([self._crowd.sights.sight_of(sight) for sight in self._crowd.seeds_at(number)])
         return tuple([(self._sights.sight_of(sight), rows[number]) for sight, number in self._pairs])
 
 
