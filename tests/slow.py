@@ -8,6 +8,12 @@ from lightsout.lots import Lots, guest_moves
 from lightsout.plans import Plan, World, deed
 
 
+def large_world(deeds):
+    """Guests alone come to just 1,000 standings, whatever deeds of this sort are done."""
+    return World.read("part p\ndoor d out p open\ncell c p\ncell e p\nkind a\ngo d\nsee c\nset c 1\nsee c\ntell c\nset e 2\n"
+                      "kind b\ngo d\nset c 1\nplan" + "\non p" * deeds)
+
+
 class TooMuch(Exception):
     """More comes than a slow search goes through."""
 

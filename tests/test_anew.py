@@ -10,7 +10,7 @@ from lightsout.errors import InvalidSize
 from lightsout.lots import Lots, first_standing, moves
 from lightsout.plans import World
 from lightsout.repair import Repair
-from slow import none_of
+from slow import large_world, none_of
 
 HOUSE = "part p\ndoor d out p open\ndoor e p out open\nkind a\ngo d\ngo e\nplan\n"
 SAFE = World.read(HOUSE + "shut d\ndrain p\noff p\non p\nopen d")
@@ -274,6 +274,15 @@ class Plays(unittest.TestCase):
         self.assertEqual(Repair(SAFE).spare()[0] is None, anew.one_fall(5, 0) is not None)
         texts = "".join(f"kind {name}\ngo d\nsee c\nset c 1\nset e 2\ngo d\n" for name in "ab")
         anew = Anew(World.read(f"part p\ndoor d out p open\ncell c p\ncell e p\n{texts}plan\ndrain p"))
+        full = Anew(large_world(4))
+        self.assertEqual((None, None), (full.one_fall(4, 4), full.one_fall(2, 2)))
+        self.assertEqual(("InvalidSize", "standings"), raised(full.one_fall, 4, 3))
+        self.assertEqual(("InvalidSize", "standings"), raised(full.once, (0,)))
+        self.assertIsNone(full.once((0, 1, 2, 3, 4)))
+        self.assertEqual((True, 5000), (full.ever((0,))[0], len(full.ever((0,))[1])))
+        self.assertEqual(("InvalidSize", "standings"), raised(Anew(large_world(5)).ever, (0,)))
+        # Ahead of a harm few are met.
+        self.assertFalse(Anew(anew.world.with_plan([("off", "p")])).ever((0,))[0])
         for call in [lambda: anew.one_fall(0, 0), anew.falls, lambda: anew.once((0,)), anew.good_once, lambda: anew.ever((0,)), anew.good_ever]:
             self.assertEqual(("InvalidSize", "standings"), raised(call))
 

@@ -133,7 +133,7 @@ class Knows(unittest.TestCase):
                 self.assertIsNone(book.knows(claim, (value, (0, 0))), value)
                 if claim != "calm":
                     self.assertIsNone(book.knows(claim, (STALE, value)), value)
-        for wrong in ([*question], (list(INSIDE), (1, 0)), (INSIDE, [1, 0]), (INSIDE, (True, False)), (INSIDE, (1,)), (INSIDE, (1, 0), 0),
+        for wrong in ((INSIDE, 0, (1, 0)), ((1, 0),), [*question], (list(INSIDE), (1, 0)), (INSIDE, [1, 0]), (INSIDE, (True, False)), (INSIDE, (1,)), (INSIDE, (1, 0), 0),
                       (("inside", "q"), (1, 0)), (INSIDE, (1, -1))):
             self.assertIsNone(book.knows("can", wrong), wrong)
         self.assertIsNone(book.knows("calm", (STALE, (0, 0))))
@@ -176,6 +176,13 @@ class First(unittest.TestCase):
             if value not in (0, 1) or isinstance(value, bool):
                 self.assertEqual(("Refused", 1), raised(book.first_deeds, None, value), value)
         self.assertEqual(("Refused", 1), raised(book.first_deeds, spoilt, 2))
+        # What is wrong of the last deed alone is wrong of the first ones, too.
+        late = Book(CALM)
+        whole = closed_paper(CALM, (None,), INSIDE)
+        less = ("never", (INSIDE, (None,)), tuple(one for one in whole if one[2] < 3))
+        self.assertFalse(late.put(less))
+        self.assertTrue(Book(CALM.with_plan(CALM.plan.deeds[:2])).put(less))
+        self.assertIsNone(late.first_deeds(less, 2))
 
     def test_random_worlds(self):
         chance = random.Random(94)

@@ -177,6 +177,19 @@ class Lot(unittest.TestCase):
         told = least_kinds(world, ("inside", "p"))
         self.assertEqual((((0, 2), (1, 2)), ((0, 1), (2,))), (told.lots, told.barred))
         self.assertTrue(check_least(world, ("inside", "p"), "kinds", told))
+        for lots in [((0, 0), (1, 2)), ((1, 2), (2, 0)), ((0, 2), (1, 2), (1, 2)), ((2, 0), (2, 1))]:
+            whats = [told.whats[0] if set(lot) == {0, 2} else told.whats[1] for lot in lots]
+            self.assertIs(False, check_least(world, ("inside", "p"), "kinds", Least(lots, tuple(whats), told.barred, told.papers)), lots)
+        for barred in [((0, 1), (2, 2)), ((1, 0), (2,))]:
+            self.assertIs(False, check_least(world, ("inside", "p"), "kinds", Least(told.lots, told.whats, barred, told.papers)), barred)
+        # The last one opens for himself: lots go by their kinds, not by how many these are.
+        self_made = World.read("part p\ndoor d out p shut\nkind a\nopen d\nkind b\ngo d\nkind c\nopen d\ngo d\nplan\noff p")
+        told = least_kinds(self_made, ("inside", "p"))
+        self.assertEqual((((0, 1), (2,)), ((0,), (1,))), (told.lots, told.barred))
+        self.assertTrue(check_least(self_made, ("inside", "p"), "kinds", told))
+        # A lot that holds a lesser one, in its order.
+        wider = Least(((0, 1), (0, 1, 2), (2,)), (told.whats[0], told.whats[0], told.whats[1]), told.barred, told.papers)
+        self.assertIs(False, check_least(self_made, ("inside", "p"), "kinds", wider))
         nobody = World.read("part p\nplan\noff p")
         self.assertEqual(((), ((),)), (least_kinds(nobody, ("inside", "p")).lots, least_kinds(nobody, ("inside", "p")).barred))
 

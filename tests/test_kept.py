@@ -6,13 +6,15 @@ import unittest
 
 from helpers import VALUES, bent, raised, random_world
 from lightsout.errors import InvalidSize, InvalidStory, Refused
+from lightsout.guests import Kind
 from lightsout.house import House
 from lightsout.kept import (calm_holds, calm_paper, gap, good_keepings, is_good, keepings, kept_world, least_good, never_off, telling,
                             telling_holds, telling_paper)
 from lightsout.lots import Lots
 from lightsout.plans import World
 from lightsout.sights import is_sight
-from lightsout.traces import is_seen, trace
+from lightsout.tellers import Crowd, Teller
+from lightsout.traces import is_seen, trace, words_of
 from slow import TooMuch, after, due, first_sight, is_behind, is_behind_one, mutated, none_of, seen, teller, unseen, words_from
 
 ROWS = ["part p", "door d out p open", "cell c p", "cell e p", "kind w", "go d", "set c 1", "set e 1", "go d"]
@@ -325,6 +327,90 @@ class Papers(unittest.TestCase):
                 self.assertIs(False, telling_holds(BACK, ["r"], (), (name, text, story, ((*rows[0], sight), *rows[1:]))), sight)
         # A sight that is no more than others, and one told twice, do no harm.
         self.assertTrue(telling_holds(BACK, ["r"], (), (name, text, story, (rows[0] + rows[0][:1], *rows[1:]))))
+
+    def test_rows_must_be_closed(self):
+        name, text, story, rows = telling_paper(BACK, ["r"], ())
+        dark = never_off(BACK)
+        # Without what others do he never sees 1: but others do.
+        alone = [(first_sight(dark, 1),), tuple(after(dark, [first_sight(dark, 1)], "0")), (), (), (), ()]
+        self.assertEqual(len(rows), len(alone))
+        value = (name, text, story, tuple(alone))
+        self.assertTrue(has_form(BACK, (), value, False))
+        self.assertFalse(telling_by_hand(BACK, ["r"], (), value))
+        self.assertIs(False, telling_holds(BACK, ["r"], (), value))
+        # Nobody serves what he shows: rows of the unseen steps alone are no paper that he can not tell.
+        kept = kept_world(BACK, ())
+        sights = tuple((sight, (first_sight(dark, 1),)) for sight in due(kept, [first_sight(kept, 1)]))
+        self.assertFalse(calm_by_hand(BACK, ["r"], (), (("r", sights),)))
+        self.assertIs(False, calm_holds(BACK, ["r"], (), (("r", sights),)))
+
+    def test_stories_and_names_of_papers(self):
+        two = World.read(BACK.text().replace("plan\n", "kind s\ngo d\nsee c\ngo d\ngo d\nsee c\nplan\n"))
+        name, text, story, rows = telling_paper(two, ["r", "s"], ())
+        other = tuple(event.replace("come r", "come s") for event in story)
+        self.assertEqual(("r", text), (name, trace(kept_world(two, ()), other, 0)))
+        self.assertTrue(telling_holds(two, ["r", "s"], (), (name, text, story, rows)))
+        self.assertFalse(telling_holds(two, ["r", "s"], (), (name, text, other, rows)))
+        self.assertFalse(telling_holds(two, ["r", "s"], (), ("s", text, story, rows)))
+        for value in [(name, text, (*story, "away"), rows), (name, text, ("away", *story), rows), (name, None, story, rows),
+                      (name, text + " ", story, rows), (name, "x", story, rows), (name, "", (), ((),)), (name, "", (), ()),
+                      (name, [text], story, rows), ([name], text, story, rows)]:
+            self.assertIs(False, telling_holds(two, ["r", "s"], (), value), value)
+
+    def test_papers_ask_for_more_than_searches(self):
+        # Who never comes out of p bars the drain, whoever else is in: but papers tell both.
+        counts = {}
+        chance = random.Random(64)
+        while min([counts.get(key, 0) for key in itertools.product("tc", (True, False))]) < 3:
+            world = teller(chance, 2, 6)
+            if chance.random() < 0.7:
+                kinds = [Kind(kind.name, kind.rows[:-1] if len(kind.rows) > 3 else kind.rows) for kind in world.kinds]
+                world = World(world.house, kinds, world.plan)
+            keeping = chance.choice(keepings(world.house))
+            kept, dark = kept_world(world, keeping), never_off(world)
+            try:
+                for number in range(len(world.kinds)):
+                    due(kept, [first_sight(kept, number)], 300)
+            except TooMuch:
+                continue
+            name = chance.choice([kind.name for kind in world.kinds])
+            crowd = Crowd(dark)
+            told = telling_paper(world, [name], keeping)
+            if told is not None:
+                rows = [crowd.opening(number_of(world, name))]
+                for word in words_of(told[1]):
+                    rows.append(crowd.behind(rows[-1], word))
+                loose = tuple(tuple(crowd.sights.sight_of(sight) for sight in crowd.row_at(row)) for row in rows)
+                value = (*told[:3], loose)
+                holds = telling_by_hand(world, [name], keeping, value)
+                self.assertIs(holds, telling_holds(world, [name], keeping, value))
+                counts["t", holds] = counts.get(("t", holds), 0) + 1
+                continue
+            seeker = Teller(kept, crowd)
+            seeker.search(number_of(world, name))
+            value = ((name, seeker.pairs()),)
+            if len(value[0][1]) < 30:
+                holds = calm_by_hand(world, [name], keeping, value)
+                self.assertIs(holds, calm_holds(world, [name], keeping, value))
+                counts["c", holds] = counts.get(("c", holds), 0) + 1
+
+    def test_the_least_text_of_two(self):
+        house = "part p\ndoor d out p open\ncell c p\n"
+        read = "kind r\ngo d\nsee c\ngo d\ngo d\nsee c\n"
+        plan = "plan\ndrain p\noff p\non p"
+        for rows in ("set c 1\nset c 2", "set c 2\nset c 1"):
+            for kinds in (read + "kind w\ngo d\n" + rows + "\ngo d\n", "kind w\ngo d\n" + rows + "\ngo d\n" + read):
+                world = World.read(house + kinds + plan)
+                self.assertTrue(is_seen(kept_world(world, ()), "r", "0 1:2 2 3 4:0"))
+                self.assertFalse(is_seen(never_off(world), "r", "0 1:2 2 3 4:0"))
+                self.assertEqual(("r", "0 1:1 2 3 4:0"), telling(world, ["r", "w"], ()))
+                paper = telling_paper(world, ["r"], ())
+                self.assertTrue(telling_holds(world, ["r"], (), paper))
+        # A watched one who may have to wait.
+        waits = World.read(house + "kind w\ngo d\nset c 1\ngo d\nkind r\ngo d\nwait c 1\ngo d\ngo d\nsee c\n" + plan)
+        self.assertEqual(("r", "0 1 2 3 4:0"), telling(waits, ["r"], ()))
+        self.assertTrue(telling_holds(waits, ["r"], (), telling_paper(waits, ["r"], ())))
+        self.assertTrue(calm_holds(waits, ["r", "w"], ["c"], calm_paper(waits, ["r", "w"], ["c"])))
 
     def test_each_way_to_bend_a_calm_paper(self):
         paper = calm_paper(BACK, ["r", "w"], ["c"])

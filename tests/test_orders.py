@@ -12,7 +12,7 @@ from lightsout.lots import guest_moves
 from lightsout.orders import (in_row, least_cuts, least_orders, must_keep, needful_pairs, order_paper, order_paper_holds,
                               order_passes, order_story, order_story_holds, safe_order)
 from lightsout.plans import World, deed
-from slow import come, mutated, none_of
+from slow import come, large_world, mutated, none_of
 
 HOUSE = "part hall\ndoor d out hall open\ndoor e hall out open"
 WORLD = World.read(HOUSE + "\nkind g\ngo d\ngo e\nplan\nshut d\nshut d\ndrain hall\noff hall")
@@ -323,6 +323,12 @@ class Sets(unittest.TestCase):
         self.assertEqual(((0, 1), (1, 2)), needful_pairs(WORLD, ((1, 2), (0, 1), (0, 2))))
         self.assertEqual(((),), must_keep(WORLD, ((1, 2), (0, 1))))
 
+    def test_least_orders_go_by_their_covers(self):
+        # By all pairs that follow the other one would be first: (1, 0) follows from (1, 3), (3, 0).
+        world = World.read("part p\npart q\ndoor d out p shut\ndoor e out q open\nkind a\ngo d\ngo d\ngo e\nkind b\nshut d\nshut d\n"
+                           "plan\noff q\nshut e\nopen d\ndrain q")
+        self.assertEqual((((1, 2),), ((1, 3), (3, 0))), least_orders(world))
+
     def test_without_deeds(self):
         world = WORLD.with_plan([])
         self.assertEqual((((),), ((),), (), ()), (least_orders(world), least_cuts(world), must_keep(world, ()),
@@ -370,9 +376,29 @@ class Errors(unittest.TestCase):
             self.assertEqual(("InvalidOrder", 0), raised(call, BIG, [(0, 0)]))
         for call in [least_orders, least_cuts]:
             self.assertEqual(("InvalidSize", "standings"), raised(call, BIG))
+        # Also where a harm is met early.
+        harmed = BIG.with_plan([("off", "p"), ("on", "p")])
+        for call in [safe_order, order_paper, order_story, order_passes, needful_pairs, must_keep]:
+            self.assertEqual(("InvalidSize", "standings"), raised(call, harmed, ()))
+        for call in [least_orders, least_cuts]:
+            self.assertEqual(("InvalidSize", "standings"), raised(call, harmed))
         # What is handed in is only looked at.
         self.assertFalse(order_paper_holds(BIG, (), ()))
         self.assertFalse(order_story_holds(BIG, (), ((), ())))
+
+    def test_just_as_many_standings_as_are_let(self):
+        chain = [(0, 1), (1, 2), (2, 3)]
+        self.assertTrue(safe_order(large_world(4), chain))
+        self.assertEqual(5000, len(order_paper(large_world(4), chain)))
+        self.assertEqual(("InvalidSize", "standings"), raised(safe_order, large_world(5), [*chain, (3, 4)]))
+        self.assertEqual(("InvalidSize", "standings"), raised(safe_order, large_world(4), chain[:2]))
+        self.assertEqual((), must_keep(large_world(4), chain))
+        # Along one row of four deeds there are a few more.
+        more = World.read("part p\ndoor d out p open\ncell c p\ncell e p\nkind a\ngo d\nsee c\ntell c\nset c 2\nsee e\ntell c\n"
+                          "kind b\ngo d\nplan" + "\non p" * 4)
+        for call in [least_orders, lambda world: must_keep(world, chain)]:
+            self.assertEqual(("InvalidSize", "standings"), raised(call, more))
+        self.assertEqual(((),), least_orders(more.with_plan(more.plan.deeds[:3])))
 
     def test_by_names_and_again(self):
         self.assertEqual(safe_order(WORLD, P), safe_order(world=WORLD, pairs=list(P)))

@@ -12,7 +12,7 @@ from lightsout.lots import Lots, first_standing, moves
 from lightsout.plans import Plan, World
 from lightsout.repair import Repair
 from lightsout.stage import Stage
-from slow import none_of
+from slow import large_world, none_of
 
 HOUSE = "part p\ndoor d out p open\ndoor e p out open\nkind a\ngo d\ngo e\nplan\n"
 WORLD = World.read(HOUSE + "off p\non p")
@@ -317,6 +317,10 @@ class Cuts(unittest.TestCase):
         for wrong in [*VALUES, *bent(greatest), greatest * 2, greatest + empty, empty]:
             self.assertIs(str(wrong) in texts[1], repair.is_drain_cuts(points, least, wrong), wrong)
         self.assertIs(True, repair.is_drain_cuts(points, lists[0][2], lists[1][2]))
+        for story in [*VALUES, "hand", 0]:
+            self.assertIs(False, repair.is_drain_cuts(points, least, ((greatest[0][0], story),)), story)
+        for paper in VALUES:
+            self.assertIs(False, repair.is_drain_cuts(points, ((least[0][0], paper),), greatest), paper)
         both = ((((0, "p"), (1, "p")), least[0][1]),)
         self.assertIs(False, repair.is_drain_cuts(points, both, greatest))
         self.assertIs(False, repair.is_drain_cuts(points, least + both, greatest))
@@ -324,6 +328,19 @@ class Cuts(unittest.TestCase):
         self.assertIs(False, repair.is_drain_cuts(points, (), greatest))
         self.assertIs(False, repair.is_drain_cuts(points, least, ()))
         self.assertIs(False, repair.is_drain_cuts(points[:1], least, greatest))
+
+    def test_lots_in_their_order(self):
+        world = World.read("part q\npart p\ndoor d out p open\ndoor e out q open\nkind a\ngo d\nkind b\ngo e\nplan\nshut d\nshut e\noff p\n"
+                           "off q")
+        repair, points = Repair(world), [(2, "p"), (2, "q")]
+        least, greatest, _ = repair.drain_cuts(points)
+        self.assertEqual([((2, "q"), (2, "p"))], [lot for lot, _ in least])
+        self.assertIs(True, repair.is_drain_cuts(points, least, greatest))
+        (lot, paper), = least
+        for wrong in [lot[::-1], lot + lot[:1], lot[:1] + lot, lot[:1], list(lot)]:
+            self.assertIs(False, repair.is_drain_cuts(points, ((wrong, paper),), greatest), wrong)
+        twice = [((one[0], one[0]), story) for one, story in greatest]
+        self.assertIs(False, repair.is_drain_cuts(points, least, twice))
 
     def test_the_least_ones_in_order(self):
         world = World.read(HOUSE + "shut d\non p\noff p")
@@ -358,6 +375,17 @@ class Cuts(unittest.TestCase):
                      repair.spare, lambda: repair.drain_cuts([(0, "p")])]:
             self.assertEqual(("InvalidSize", "standings"), raised(call))
         self.assertIsNone(raised(repair.changed, [(0, DRAIN)]))
+
+    def test_just_as_many_standings_as_are_let(self):
+        repair, on = Repair(large_world(4)), ("on", "p")
+        self.assertTrue(repair.verdict(())[0])
+        self.assertEqual(("InvalidSize", "standings"), raised(repair.verdict, [(0, on)]))
+        self.assertEqual((None,) * 4, repair.spare())
+        self.assertEqual(((),), repair.least_changes([on], 1))
+        self.assertEqual(("InvalidSize", "standings"), raised(Repair(large_world(5)).spare))
+        # What is harmed is gone through to its end, too.
+        off = large_world(3).with_plan([("on", "p")] * 4 + [("off", "p")])
+        self.assertEqual(("InvalidSize", "standings"), raised(Repair(off).verdict, ()))
 
 
 if __name__ == "__main__":

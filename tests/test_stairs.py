@@ -71,6 +71,13 @@ class Least(unittest.TestCase):
         alone = World.read(house + "kind a\ngo d\nsee c\nset c 1\nwhen 0 3\ngo e\nplan\noff q")
         self.assertEqual((((2,),), ((1,),)), (least_numbers(alone, DARK).vectors, least_numbers(alone, DARK).corners))
 
+    def test_vectors_go_by_kinds(self):
+        # One a goes in at once; of b it takes two.
+        world = World.read(HOUSE + "kind a\ngo d\ngo e\nkind b\ngo d\nsee c\nset c 1\nwhen 0 3\ngo e\nplan\noff q")
+        told = least_numbers(world, DARK)
+        self.assertEqual((((0, 2), (1, 0)), ((0, 1),)), (told.vectors, told.corners))
+        self.check_told(world, DARK, told)
+
     def test_as_trials_of_all_vectors(self):
         chance = random.Random(46)
         counts = {}
@@ -142,6 +149,9 @@ class Checks(unittest.TestCase):
         for tale in [told.tales[1][1:], ("come a", *told.tales[1]), (*told.tales[1], "hand"), told.tales[1][:-1],
                      (told.tales[1][0], *told.tales[1][2:5], "come a", *told.tales[1][5:]), list(told.tales[1]), told.tales[0]]:
             self.assertIs(False, check_stairs(WORLD, DARK, Stairs(told.vectors, (told.tales[0], tale), told.corners, told.papers)), tale)
+        # The harm once more behind the harm.
+        twice = (told.tales[0], (*told.tales[1], told.tales[1][-1]))
+        self.assertIs(False, check_stairs(WORLD, DARK, Stairs(told.vectors, twice, told.corners, told.papers)))
         # By kinds, in order; and nobody comes later.
         one, other, *rest = told.tales[0]
         swapped = tuple({"step 0": "step 1", "step 1": "step 0"}.get(event, event) for event in rest)

@@ -12,7 +12,7 @@ from lightsout.house import first_row
 from lightsout.plans import World, deed
 from lightsout.surely import (bad_story, clash_at, fits, good_entries, least_sensors, stretch, sure_for_ever, sure_holds, surely,
                               undecided)
-from slow import in_order
+from slow import in_order, large_world
 
 HALL = World.read("part hall\ndoor gate out hall open\nkind k\ngo gate\ngo gate\nplan\noff hall")
 GATE, LAMP = ("bell", "gate"), ("lamp", "hall")
@@ -158,6 +158,33 @@ class ByHand(unittest.TestCase):
         both = stretch(HALL, (), [(row, (Y,), 0, ()), (behind_off, (Y,), 1, ())])
         self.assertEqual([0] * 4 + [1], sorted(standing[2] for standing in both))
 
+    def test_what_is_told(self):
+        face = [("face", "c"), ("lamp", "p")]
+        # Once 1 has been told, it stands until the off takes it.
+        row = first_row(TOLD.house)
+        told = (row[0], row[1], (1, 0), row[3], (1, 0))
+        start = (told, ((0, 0, -1, None),), 0, ())
+        self.assertEqual((start,), tuple(one for one in stretch(TOLD, (), [start]) if one[1] == start[1]))
+        self.assertTrue(surely(TOLD, face, [(0, False)], ("told", "c"), False)[0])
+        # Who is out again has told it.
+        self.assertTrue(surely(TOLD, face, [(1, False)], ("told", "c"))[0])
+        self.assertFalse(surely(TOLD, face, [(1, True)], ("told", "c"))[0])
+        self.assertFalse(surely(TOLD, face, [(1, True)], ("told", "c"), False)[0])
+        gone = [None, None, None, (0, False)]
+        self.assertTrue(surely(TOLD, face, gone, ("told", "c"), False)[0])
+        both = World.read(TOLD.text().replace("set c 1", "set c 2"))
+        self.assertFalse(surely(both, face, [(2, False)], ("told", "c"), False)[0])
+        self.assertTrue(surely(both, face, [(2, False)], ("told", "c"))[0])
+        # 2 was told, and the off has taken it: nothing stands.
+        self.assertTrue(surely(both, face, gone, ("told", "c"), False)[0])
+
+    def test_several_bad_entries_in_order(self):
+        world = World.read("part p\ndoor d out p open\ncell c p\nkind k\ngo d\nset c 2\nset c 1\nset c 0\nplan\noff p")
+        self.assertEqual(((((0,),), ((0,), (1,), (2,))),)[0][1:], (good_entries(world, [("face", "c")])[0][1],))
+        self.assertEqual((((False, 0),), ((True, 0), (True, 1), (True, 2))), good_entries(world, [("lamp", "p"), ("face", "c")])[0])
+        calm = world.with_plan([("on", "p")])
+        self.assertEqual((((0,), (1,), (2,)), ()), good_entries(calm, [("face", "c")])[0])
+
     def test_told_late(self):
         # Of the last look nothing has been told: it fits whatever can be.
         self.assertEqual(4, len(fits(HALL, [GATE], [None])))
@@ -257,6 +284,15 @@ class Logs(unittest.TestCase):
             self.assertIs(False, sure_holds(HALL, [GATE], [(False,)], NOBODY, True, ((*paper[0], standing),)), standing)
         for wrong in [(row, (Y,), 1, ()), (row, (Y,), 0, (1,)), (row, (Y,), 0, (0, 0)), (row, (IN,), 0, (0,)), (row, (Y, Y), 0, ())]:
             self.assertIs(False, sure_holds(HALL, [GATE], [(False,)], NOBODY, True, ((*paper[0], wrong),)), wrong)
+        # Bells that are no sensors, and doors in another order, even where all is closed.
+        two = [("bell", "d"), ("bell", "e")]
+        for sensors, wrong in [([("bell", "d")], (1,)), ([("bell", "d")], (0, 1)), (two, (1, 0)), (two, (0, 0)), (two, (0, 2))]:
+            lit = surely(TOLD, sensors, [None], ("open", "d"))[1][0]
+            more = dict.fromkeys([*lit, *stretch(TOLD, two, [(*first(TOLD)[:3], (0, 1))]), *stretch(TOLD, two, [(*first(TOLD)[:3], (1,))])])
+            due = tuple((*one[:3], wrong if one[3] == (0, 1) else one[3]) for one in more)
+            if sensors == two:
+                self.assertTrue(sure_holds(TOLD, sensors, [None], ("open", "d"), True, (tuple(more),)))
+            self.assertIs(False, sure_holds(TOLD, sensors, [None], ("open", "d"), True, (due,)), wrong)
         # Of a lamp no bell is lit.
         self.assertIs(False, sure_holds(HALL, [LAMP], [(False,)], NOBODY, True, paper))
         self.assertIs(True, sure_holds(world=HALL, sensors=[GATE], log=[(False,)], saying=NOBODY, is_so=True, value=paper))
@@ -373,7 +409,7 @@ class Errors(unittest.TestCase):
              lambda sensors, log, saying: sure_holds(TOLD, sensors, log, saying, True, None)]
 
     def test_sensors_first(self):
-        calls = [lambda told: call(told, None, None) for call in self.CALLS]
+        calls = [lambda told, call=call: call(told, None, None) for call in self.CALLS]
         calls += [lambda told: stretch(TOLD, told, ()), lambda told: fits(TOLD, told, None), lambda told: clash_at(TOLD, told, None),
                   lambda told: good_entries(TOLD, told), lambda told: bad_story(TOLD, told, None, None),
                   lambda told: undecided(TOLD, told, None, None), lambda told: least_sensors(TOLD, told, None, None)]
@@ -389,7 +425,7 @@ class Errors(unittest.TestCase):
     def test_logs(self):
         sensors = [("bell", "d"), ("lamp", "p"), ("face", "c")]
         good = (True, False, 2)
-        calls = [lambda log: call(sensors, log, None) for call in self.CALLS]
+        calls = [lambda log, call=call: call(sensors, log, None) for call in self.CALLS]
         calls += [lambda log: fits(TOLD, sensors, log), lambda log: clash_at(TOLD, sensors, log)]
         for call in calls:
             for value in VALUES:
@@ -405,7 +441,7 @@ class Errors(unittest.TestCase):
         self.assertEqual((), fits(TOLD, (), [()] * 4)[:0])
 
     def test_sayings(self):
-        calls = [lambda saying: call([], [()], saying) for call in self.CALLS]
+        calls = [lambda saying, call=call: call([], [()], saying) for call in self.CALLS]
         calls += [lambda saying: undecided(TOLD, [], saying, None), lambda saying: least_sensors(TOLD, [], saying, None)]
         for call in calls:
             for value in [*VALUES, ("nobody",), ("nobody", "p", 0), ("value", "c"), ("value", "c", 3), ("value", "c", True), ("value", "c", -1),
@@ -439,6 +475,11 @@ class Errors(unittest.TestCase):
                      lambda: good_entries(world, []), lambda: bad_story(world, [], 0, ()), lambda: undecided(world, [], ("open", "d"), 0),
                      lambda: least_sensors(world, [], ("open", "d"), 0)]:
             self.assertEqual(("InvalidSize", "standings"), raised(call))
+        # Just as many as are let, of all looks together; and more.
+        self.assertIsNone(raised(undecided, large_world(5), [], ("nobody", "p"), 4))
+        self.assertEqual(("InvalidSize", "standings"), raised(undecided, large_world(5), [], ("nobody", "p"), 5))
+        self.assertEqual(("InvalidSize", "standings"), raised(undecided, large_world(4), [("face", "c")], ("nobody", "p"), 4))
+        self.assertIsNone(raised(fits, large_world(5), [], [()] * 6))
         # What is handed in is only looked at.
         self.assertIs(False, sure_holds(world, [], [()], ("open", "d"), True, ((start,),)))
 

@@ -71,6 +71,17 @@ class Inside(unittest.TestCase):
         # Both ends hang together otherwise: an end counts, not the way.
         self.assertEqual(("InvalidHouse", 1), raised(inner_of, within, "k", "i", "h"))
 
+    def test_numbers_are_those_of_the_worlds_doors(self):
+        world = World.read("part b\npart a\npart r\ndoor x out b open\ndoor y b a open\ndoor z out b shut\ndoor i out r open\n"
+                           "door h r a open\ndoor t a out open\ndoor o r b open\nkind k\ngo i\ngo o\nplan")
+        # By h to a, and by y to b: the first door from there into the yard stands first of all; o has both ends there.
+        self.assertEqual(("InvalidHouse", 0), raised(inner_of, world, "k", "i", "o"))
+        cut = World.read(world.text().replace("door y b a open\n", "door y b out open\n"))
+        self.assertEqual(("InvalidHouse", 5), raised(inner_of, cut, "k", "i", "o"))
+        lone = World.read(cut.text().replace("door t a out open", "door t a r open"))
+        self.assertEqual("part a\npart r\ndoor i out r open\ndoor h r a open\ndoor t a r open\ndoor o r out open",
+                         inner_of(lone, "k", "i", "o").house.text())
+
     def test_too_many_parts_and_the_errors_of_inner(self):
         rows = ["part p", "part q", "part r", "door i out p open", "door h p q open", "door f q r open", "door o r out open"]
         world = World.read("\n".join([*rows, "kind k", "go h", "plan"]))

@@ -124,6 +124,40 @@ class Seen(unittest.TestCase):
         told = stays.with_plan([("drain", "p"), ("off", "p"), ("on", "p")])
         self.assertFalse(is_seen(told, "k", "0 1:1 2:0"))
 
+    def test_who_never_comes_out_bars_a_drain(self):
+        # By f to q only when the drain has been done: a must have come out, and nobody else be in.
+        house = "part p\npart q\ndoor d out p open\ndoor e p out {0}\ndoor f out q shut\ncell c p\n"
+        other = "kind b\ngo d\nset c 1\nplan\nshut d\n"
+        for door, rows, plan, text in [("shut", "go d\ngo e\ngo f", "open e\ndrain p\nopen f", "0 1 2"),
+                                       ("shut", "go d\nopen e\ngo e\ngo f", "drain p\nopen f", "0 1 2 3"),
+                                       ("open", "go d\nsee c\nwhen 0 4\nrest\ngo e\ngo f", "drain p\nopen f", "0 1:0 2 4 5"),
+                                       ("open", "go d\nagain 3\nrest\ngo e\ngo f", "drain p\nopen f", "0 1 3 4"),
+                                       ("open", "go d\nuse c\nwait c 0\ntell c\ngo e\ngo f", "drain p\nopen f", "0 1 2 3 4 5")]:
+            world = World.read(house.format(door) + "kind a\n" + rows + "\n" + other + plan)
+            self.assertTrue(is_seen(world, "a", text), world.text())
+            self.assertEqual(text, trace(world, story_for(world, "a", text), 0))
+            away = World.read(world.text().replace("\nopen f", ""))
+            self.assertFalse(is_seen(away, "a", text))
+            self.assertFalse(is_seen(world, "b", "0 1 2"))
+        stays = World.read(house.format("open") + "kind a\ngo d\nwait c 1\ngo e\ngo f\n" + other + "drain p\nopen f")
+        self.assertTrue(is_seen(stays, "a", "0 1 2"))
+        self.assertFalse(is_seen(stays, "a", "0 1 2 3"))
+
+    def test_an_off_never_passes_over_somebody(self):
+        world = World.read("part p\npart q\ndoor d out p open\ndoor e p q shut\nkind k\ngo d\ngo e\nplan\noff p\nopen e")
+        self.assertFalse(is_seen(world, "k", "0 1"))
+        self.assertTrue(is_seen(world.with_plan([("open", "e"), ("off", "p")]), "k", "0 1"))
+        self.assertTrue(is_seen(world.with_plan([("off", "p"), ("on", "p"), ("open", "e")]), "k", "0 1"))
+
+    def test_what_is_idle_ahead_of_a_jump_back(self):
+        # Behind the wait he goes back to the row that sets: he may do it once more.
+        world = World.read("part p\ndoor d out p open\ncell c p\nkind a\ngo d\nset c 1\nwait c 0\nagain 1\nkind b\ngo d\nsee c\nset c 0\nsee c\nsee c\n"
+                           "plan")
+        self.assertTrue(is_seen(world, "b", "0 1:1 2 3:0 4:1"))
+        once = World.read(world.text().replace("again 1\n", "rest\n"))
+        self.assertTrue(is_seen(once, "b", "0 1:1 2 3:0 4:1"))
+        self.assertEqual("0 1:1 2 3:0 4:1", trace(world, story_for(world, "b", "0 1:1 2 3:0 4:1"), 0))
+
     def test_a_dark_part_and_a_lost_cell(self):
         dark = World.read("part p\ndoor d out p open\nkind k\ngo d\nplan\noff p")
         self.assertTrue(is_seen(dark, "k", "0"))
