@@ -3,7 +3,7 @@
 from lightsout.basics import is_sequence
 from lightsout.crowds import by_numbers, goers, needs_of
 from lightsout.errors import InvalidStory, Refused
-from lightsout.lots import HAND, Lots, any_number, checked_harm, is_what, led_along
+from lightsout.lots import HAND, MOST_STANDINGS, Lots, any_number, checked_harm, is_what, led_along
 
 
 def _check_whats(world, story):
@@ -56,9 +56,9 @@ def caps_of_sum(kinds, many):
     return [(one, *more) for one in range(many + 1) for more in caps_of_sum(kinds - 1, many - one)]
 
 
-def counted_story(world, caps, harm):
+def counted_story(world, caps, harm, bound):
     """Some story by numbers in which just so many guests come, and that ends with a harm; None if there is none."""
-    found = Lots(world, caps).story(harm)
+    found = Lots(world, caps, bound).story(harm)
     return None if found is None else by_numbers(world, caps, found, [1] * len(found))
 
 
@@ -70,7 +70,7 @@ def least_guests(world, harm):
         return None
     for many in range(most_needed(world, story) + 1):
         for caps in caps_of_sum(len(world.kinds), many):
-            found = counted_story(world, caps, told)
+            found = counted_story(world, caps, told, MOST_STANDINGS)
             if found is not None:
                 return caps, found
     return None

@@ -7,6 +7,10 @@ from lightsout.least import caps_of_sum, counted_story
 from lightsout.lots import checked_harm
 
 
+# Some vectors of as many guests as a least one may come to more standings than it does.
+MOST_COUNTED = 100000
+
+
 class Stairs:
     """The least vectors with a tale for each, and the greatest caps not above one with a paper for each."""
 
@@ -64,7 +68,7 @@ def _new_vectors(world, harm, many, vectors, open_caps):
     for vector in caps_of_sum(len(world.kinds), many):
         is_open = any([is_below(vector, caps) for caps in open_caps])
         if is_open and not any([is_above(vector, other) for other in vectors]):
-            tale = counted_story(world, vector, harm)
+            tale = counted_story(world, vector, harm, MOST_COUNTED)
             if tale is not None:
                 found[vector] = tale
     return found

@@ -194,10 +194,11 @@ def least_sensors(world, choice, saying, many):
     if len(choice) > MOST_SENSORS:
         raise InvalidSize("choice")
     ground = Ground(world.house, world.kinds)
+    sensors = list(choice)
     telling = []
     others = []
-    for size in range(len(choice) + 1):
-        for lot in combinations(choice, size):
+    for size in range(len(sensors) + 1):
+        for lot in combinations(sensors, size):
             if any([is_within(one, lot) for one in telling]):
                 continue
             pair = undecided_pair(Looks(world, lot, ground), saying, many)

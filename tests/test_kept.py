@@ -344,6 +344,18 @@ class Papers(unittest.TestCase):
         self.assertFalse(calm_by_hand(BACK, ["r"], (), (("r", sights),)))
         self.assertIs(False, calm_holds(BACK, ["r"], (), (("r", sights),)))
 
+    def test_idle_places_may_be_missing(self):
+        # Behind a rest nothing comes, and a jump passes over rows: who is idle need not be told.
+        for rows, is_idle in [("go d\nrest\nset c 1", True), ("go d\nset c 1", False), ("again 2\nset c 1\nsee c", True),
+                              ("when 0 2\nset c 1\nsee c", False), ("go d\nagain 1\nset c 1", True), ("go d\nuse c\nwait c 2", True),
+                              ("go d\nshut d", False), ("tell c", False), ("rest\nopen d", True)]:
+            world = World.read("part p\ndoor d out p open\ncell c p\nkind w\n" + rows + "\nkind r\nrest\nplan")
+            row, _, hand, place = first_sight(world, 1)
+            bare = (row, (), hand, place)
+            paper = (("r", ((bare, (bare,)),)),)
+            self.assertIs(is_idle, calm_by_hand(world, ["r"], (), paper))
+            self.assertIs(is_idle, calm_holds(world, ["r"], (), paper), rows)
+
     def test_stories_and_names_of_papers(self):
         two = World.read(BACK.text().replace("plan\n", "kind s\ngo d\nsee c\ngo d\ngo d\nsee c\nplan\n"))
         name, text, story, rows = telling_paper(two, ["r", "s"], ())

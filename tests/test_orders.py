@@ -329,6 +329,15 @@ class Sets(unittest.TestCase):
                            "plan\noff q\nshut e\nopen d\ndrain q")
         self.assertEqual((((1, 2),), ((1, 3), (3, 0))), least_orders(world))
 
+    def test_two_pairs_and_two_cuts(self):
+        # Shut e ahead of open d, and shut g ahead of open f: else somebody comes into p or q, dark or not.
+        world = World.read("part a\npart p\npart b\npart q\ndoor d out a shut\ndoor e a p open\ndoor f out b shut\ndoor g b q open\n"
+                           "kind k\ngo d\ngo e\nkind m\ngo f\ngo g\nplan\nshut e\nshut g\nopen d\nopen f\noff p\noff q")
+        pairs = ((0, 2), (1, 3))
+        self.assertTrue(safe_order(world, pairs))
+        self.assertEqual(pairs, needful_pairs(world, pairs))
+        self.assertEqual(((1, 3), (2,)), least_cuts(world))
+
     def test_without_deeds(self):
         world = WORLD.with_plan([])
         self.assertEqual((((),), ((),), (), ()), (least_orders(world), least_cuts(world), must_keep(world, ()),

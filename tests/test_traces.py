@@ -149,14 +149,29 @@ class Seen(unittest.TestCase):
         self.assertTrue(is_seen(world.with_plan([("open", "e"), ("off", "p")]), "k", "0 1"))
         self.assertTrue(is_seen(world.with_plan([("off", "p"), ("on", "p"), ("open", "e")]), "k", "0 1"))
 
-    def test_what_is_idle_ahead_of_a_jump_back(self):
-        # Behind the wait he goes back to the row that sets: he may do it once more.
-        world = World.read("part p\ndoor d out p open\ncell c p\nkind a\ngo d\nset c 1\nwait c 0\nagain 1\nkind b\ngo d\nsee c\nset c 0\nsee c\nsee c\n"
-                           "plan")
-        self.assertTrue(is_seen(world, "b", "0 1:1 2 3:0 4:1"))
-        once = World.read(world.text().replace("again 1\n", "rest\n"))
-        self.assertTrue(is_seen(once, "b", "0 1:1 2 3:0 4:1"))
-        self.assertEqual("0 1:1 2 3:0 4:1", trace(world, story_for(world, "b", "0 1:1 2 3:0 4:1"), 0))
+    def test_who_has_set_must_come_out_step_by_step(self):
+        house = "part p\ndoor d out p open\ncell c p\n"
+        read = "kind r\ngo d\nsee c\ngo d\ngo d\nsee c\nplan\ndrain p\noff p\non p"
+        text = "0 1:1 2 3 4:0"
+        for rows, comes_out in [("go d\nset c 1\nsee c\ngo d", True), ("go d\nset c 1\nsee c\nsee c\ngo d", True),
+                                ("go d\nset c 1\nsee c\nrest", False), ("go d\nset c 1\nsee c\nsee c", False),
+                                ("go d\nset c 1\nsee c\nagain 2", False), ("go d\nset c 1\nsee c\nwhen 1 2\ngo d", False),
+                                ("go d\nset c 1\nsee c\nwhen 0 2\ngo d", True)]:
+            world = World.read(house + "kind w\n" + rows + "\n" + read)
+            story = story_for(world, "r", text)
+            self.assertEqual((comes_out, comes_out), (is_seen(world, "r", text), story is not None), rows)
+            if comes_out:
+                self.assertEqual(text, trace(world, story, 0))
+
+    def test_who_jumps_to_a_row_that_sets(self):
+        house = "part p\ndoor d out p open\ncell c p\n"
+        read = "kind b\ngo d\nsee c\nplan"
+        for rows in ("go d\nagain 3\nrest\nset c 1", "go d\nsee c\nwhen 0 4\nrest\nset c 1", "again 2\nrest\nagain 4\nrest\ngo d\nset c 1"):
+            world = World.read(house + "kind a\n" + rows + "\n" + read)
+            self.assertTrue(is_seen(world, "b", "0 1:1"), rows)
+            self.assertEqual("0 1:1", trace(world, story_for(world, "b", "0 1:1"), 0))
+        for rows in ("go d\nagain 4\nrest\nset c 1", "go d\nrest\nset c 1", "go d\nsee c\nwhen 1 4\nrest\nset c 1"):
+            self.assertFalse(is_seen(World.read(house + "kind a\n" + rows + "\n" + read), "b", "0 1:1"), rows)
 
     def test_a_dark_part_and_a_lost_cell(self):
         dark = World.read("part p\ndoor d out p open\nkind k\ngo d\nplan\noff p")
